@@ -1,0 +1,1 @@
+"""Clashborn: words of which two that clash may be added, and what is born of them."""

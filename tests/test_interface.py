@@ -1,0 +1,134 @@
+"""The interface: each name in the file that lists it, with its parameters; results of exactly the stated kinds."""
+
+import copy
+import importlib
+import inspect
+import unittest
+
+from clashborn.errors import InvalidPaper
+from clashborn.housechecker import lets_house
+from clashborn.kindpapers import lets_kind
+from clashborn.kinds import is_house, is_lot, is_words
+from clashborn.ladderchecker import lets_ladder
+from clashborn.pairings import is_pairing
+from clashborn.refusals import lets_refusal
+from clashborn.sixes import is_six
+from clashborn.sumpapers import lets_sum
+from clashborn.wishing import lets_wishes
+from tests import plain
+
+FILES = {
+    "kinds": "is_integer(thing), is_number(thing), is_word(thing), is_words(places, thing), is_lot(many, thing), "
+             "is_house(thing)",
+    "housechecker": "lets_house(thing)",
+    "letters": "blank_of(places), added(one, other), sum_of(places, words), clashes(one, other), ys_of(word), "
+               "width_of(word)",
+    "wordchanges": "moved(word, order), recast(word, place, turned_to), beside(one, other)",
+    "housechanges": "house_of(places, *words), with_word(house, word), without_word(house, told), "
+                    "kept_words(house, lot), reordered(house, order), moved_house(house, order), "
+                    "recast_house(house, place, turned_to), beside_house(house, other)",
+    "turning": "turned(word, by), turned_along(word, words), told_walk(house, word, tolds)",
+    "spans": "dimension_of(places, words), are_independent(places, words), first_basis(places, words), "
+             "apart_basis(places, words), rest_basis(places, words), rank_of(places, words)",
+    "sumpapers": "is_sum(places, words, word), sum_paper(places, words, word), lets_sum(places, words, word, thing), "
+                 "relation_basis(house)",
+    "wishing": "word_by(places, words, wishes), wish_paper(places, words, wishes), "
+               "lets_wishes(places, words, wishes, thing)",
+    "wordtexts": "short_line(word), house_line(house)",
+    "wordreadings": "read_short(places, text), read_house(text)",
+    "tiework": "ties_of(house), pieces_of(house), piece_at(house, told), met_by(house, word)",
+    "lots": "lot_sum(house, lot), is_odd(house, lot), part_of(house, lot, piece), lots_added(one, other)",
+    "pairings": "is_pairing(house, piece, thing), points_in(pairs), ends_of(house, piece, pairs, lot), "
+                "pairing_of(house, piece)",
+    "pairwork": "lot_with_ends(house, piece, pairs, ends), ring_basis(house, piece, pairs), "
+                "whole_relation(house, piece, pairs), point_words(house, piece, pairs)",
+    "sixes": "is_six(places, thing), six_of(house, piece)",
+    "ladderchecker": "lets_ladder(house, thing)",
+    "piecekinds": "kind_of(house, piece), kinds_of(house), odd_relation(house, piece)",
+    "signs": "sign_word(house, piece), house_sign(house), sign_by(sign, word)",
+    "kindpapers": "kind_paper(house, piece), lets_kind(house, piece, thing)",
+    "pairtexts": "pairs_line(pairs), read_pairs(text)",
+    "meetings": "meeting_of(house, word, piece), meetings_of(house, word), is_still(house, word)",
+    "coinwork": "coins_of(house, piece, pairs, word), coins_after(house, piece, pairs, word, lot)",
+    "lettings": "is_let(house, word, lot), side_of(house, word, lot, piece), shift_of(house, word, lot, piece)",
+    "comings": "comes_of(house, word, other), lot_from(house, word, other)",
+    "refusals": "refusal_of(house, word, other), lets_refusal(house, word, other, thing)",
+}
+CLASSES = {
+    ("houseclasses", "House"): "__init__(self, places, *words), told(self), with_word(self, word), "
+                               "without(self, told), sum_at(self, lot), __eq__(self, other), __len__(self), "
+                               "__add__(self, other)",
+    ("piececlasses", "Piece"): "__init__(self, house, piece), kind(self), told(self), paper(self), sign(self), "
+                               "made(self, word), __eq__(self, other)",
+}
+
+
+def headings(text):
+    """Pairs (name, parameters) of a list of headings."""
+    return [(part.partition("(")[0], "(" + part.partition("(")[2] + ")") for part in text.rstrip(")").split("), ")]
+
+
+class InterfaceTest(unittest.TestCase):
+    def test_functions(self):
+        for name, text in FILES.items():
+            module = importlib.import_module("clashborn." + name)
+            for function_name, parameters in headings(text):
+                function = getattr(module, function_name)
+                self.assertEqual(function.__module__, module.__name__)
+                self.assertEqual(str(inspect.signature(function)), parameters)
+
+    def test_classes(self):
+        for (name, class_name), text in CLASSES.items():
+            module = importlib.import_module("clashborn." + name)
+            found = getattr(module, class_name)
+            self.assertEqual(found.__module__, module.__name__)
+            for method, parameters in headings(text):
+                self.assertEqual(str(inspect.signature(vars(found)[method])), parameters)
+
+
+class ValuesTest(unittest.TestCase):
+    """[2]: any value may be passed as a thing, and nothing that is passed in is changed."""
+
+    def any_values(self):
+        deep = "X"
+        for level in range(30):
+            deep = (deep,) if level % 2 else [deep]
+        wide = tuple(range(4999))
+        words = [["XI", "ZZ"], ["IX", ["XI"]], [0, [1, 2]]]
+        firsts = ("lot", "apart", "word", "odd", "lone", "paired", "strict", "loose", "still", "coins", "signs")
+        found = [deep, [deep], wide, list(wide), words, "X" * 4000, "IXYZ\n", 10 ** 59, -(10 ** 59), True, None, ()]
+        for first in firsts:
+            for rest in (deep, wide, words, 10 ** 59, True, None, "X" * 4000, ()):
+                found += [(first, rest), [first, rest], (first, rest, rest), (first, rest, rest, rest)]
+                found += [(first, ("XI", "ZZ", "IX"), rest, rest), (first, 0, rest, rest), (first, (0,), rest)]
+        found += [(2, rest) for rest in found[:12]] + [(rest, ("XI",)) for rest in found[:12]]
+        return found
+
+    def test_checkers_accept_any_value(self):
+        checkers = (
+            lets_house, lambda thing: lets_sum(2, ("XI", "IX"), "YI", thing),
+            lambda thing: lets_wishes(2, ("XI", "IX"), (1, 0), thing), lambda thing: lets_ladder(plain.LINE, thing),
+            lambda thing: lets_kind(plain.LINE, 0, thing), lambda thing: lets_kind(plain.SIX, 0, thing),
+            lambda thing: lets_kind(plain.BOTH, 1, thing), lambda thing: lets_refusal(plain.LINE, "XI", "II", thing),
+            lambda thing: lets_refusal(plain.SIX, "XII", "IIZ", thing),
+            lambda thing: lets_refusal(plain.ROW, "ZZZ", "IZZ", thing),
+        )
+        for thing in self.any_values():
+            kept = copy.deepcopy(thing)
+            for checker in checkers:
+                try:
+                    checker(thing)
+                except InvalidPaper as error:
+                    self.assertIs(type(error.word), str)
+                    self.assertIs(type(error.at), int)
+            self.assertEqual(thing, kept)
+
+    def test_kinds_of_any_value(self):
+        for thing in self.any_values():
+            for found in (is_house(thing), is_lot(5, thing), is_words(2, thing), is_pairing(plain.LINE, 0, thing),
+                          is_pairing(plain.SIX, 0, thing), is_six(3, thing)):
+                self.assertIs(type(found), bool)
+
+
+if __name__ == "__main__":
+    unittest.main()

@@ -1,0 +1,240 @@
+"""[12] parameters that are not as stated: which one NotUsable names, by position, by name and two at once."""
+
+import itertools
+import unittest
+
+from clashborn.coinwork import coins_after, coins_of
+from clashborn.comings import comes_of, lot_from
+from clashborn.errors import NotUsable
+from clashborn.housechanges import (
+    beside_house, kept_words, moved_house, recast_house, reordered, with_word, without_word,
+)
+from clashborn.kindpapers import kind_paper, lets_kind
+from clashborn.letters import added, clashes, sum_of
+from clashborn.lettings import is_let, shift_of, side_of
+from clashborn.lots import is_odd, lot_sum, lots_added, part_of
+from clashborn.meetings import is_still, meeting_of, meetings_of
+from clashborn.pairings import ends_of, is_pairing, pairing_of
+from clashborn.pairtexts import read_pairs
+from clashborn.pairwork import lot_with_ends, point_words, ring_basis, whole_relation
+from clashborn.piececlasses import Piece
+from clashborn.piecekinds import kind_of, odd_relation
+from clashborn.refusals import lets_refusal, refusal_of
+from clashborn.signs import sign_by, sign_word
+from clashborn.sixes import six_of
+from clashborn.spans import apart_basis, are_independent, dimension_of, first_basis, rank_of, rest_basis
+from clashborn.sumpapers import is_sum, lets_sum, sum_paper
+from clashborn.tiework import met_by, piece_at
+from clashborn.turning import told_walk, turned, turned_along
+from clashborn.wishing import lets_wishes, wish_paper, word_by
+from clashborn.wordchanges import beside, moved, recast
+from clashborn.wordreadings import read_house, read_short
+from tests.plain import BOTH, DUO, FIVE, LINE, MORE, SIX
+
+PAIRS = ((0, 1), (1, 2), (2, 3))
+FIVE_PAIRS = ((0, 1), (1, 2), (2, 3), (3, 4), (4, 5))
+# Two pieces, the first one with three words, the second one lone.
+HOUSE = (3, ("XII", "IIX", "ZZI", "IXI"))
+
+
+def bad_words(places):
+    good = "X" * places
+    return ["", good + "X", good[1:], "x" * places, "A" + good[1:], None, True, 1, 0, -1, (), (good,), [good], [], " "]
+
+
+def bad_numbers(limit):
+    return [limit, limit + 1, -1, True, False, None, "0", "", (), (0,), [0], 10 ** 40, -(10 ** 40)]
+
+
+def bad_lots(many):
+    found = [(many,), (0, many), (0, 0), (1, 0), (-1,), (True,), (False,), (0, True), [0], [], None, 0, 1, True, "", "0"]
+    return found + [((0,),), ("0",), (None,), (10 ** 40,)]
+
+
+def bad_tuples_of_words(places):
+    good = "X" * places
+    found = [None, good, [good], [], (good + "X",), (good, None), (1,), True, 0, "", (good, ""), ((good,),), (good, "x")]
+    return found + [("A" * places,)]
+
+
+def bad_orders(many):
+    rising = tuple(range(many))
+    found = [rising + (many,), rising[1:], list(rising), None, True, "", (0,) * many, (1,) * many, rising[:-1] + (many,)]
+    return found + [rising[:-1] + (-1,), rising[:-1] + (None,), (False,) + rising[1:], rising[:-1] + ((0,),)]
+
+
+def bad_wishes(many):
+    good = (0,) * many
+    found = [good + (0,), good[1:], list(good), None, 0, "", "0" * many, good[1:] + (2,), good[1:] + (-1,)]
+    return found + [good[1:] + (True,), good[1:] + (False,), good[1:] + (None,), ((0,),) * many]
+
+
+BAD_RECASTS = ["", "XY", "XYZZ", "XXZ", "xyz", "IXY", None, True, 0, ("X", "Y", "Z"), ["X", "Y", "Z"], "XYI", " XYZ"]
+BAD_TEXTS = [None, True, 0, 1, (), ("1;",), ["1;"], [], (("",),)]
+BAD_HOUSES = [
+    None, True, 0, "", "1; X", (), (1,), [1, ("X",)], (1, ["X"]), (0, ()), (True, ("X",)), (1, ("I",)), (1, ("X", "X")),
+    (1, ("XX",)), (2, ("XI", None)), (1, (), ()), ("1", ()),
+]
+BAD_PAIRINGS = [
+    None, True, 0, "", "0-1 1-2 2-3", (), list(PAIRS), PAIRS[:2], PAIRS + ((3, 4),), ((0, 1), (1, 2), (1, 3)),
+    ((0, 1), (1, 2), (2, 4)), ((1, 2), (2, 3), (3, 4)), ((1, 0), (1, 2), (2, 3)), ((0, 1), [1, 2], (2, 3)),
+    ((0, 1), (1, 2), (2, 3, 4)), ((False, True), (True, 2), (2, 3)), ((0, 0), (1, 2), (2, 3)), ((-1, 0), (0, 1), (1, 2)),
+    ((0, 1), (1, 2), None), (0, 1, 2), ((0, 1), (1, 2), ("2", "3")), ((0, 1), (1, 2), (2, 10 ** 40)),
+    ((0, 1), (2, 3), (0, 1)),
+]
+
+# Each case: the function, then for each parameter its name, a good value, and the values to refuse, None for none.
+CASES = [
+    (added, ("one", "XI", None), ("other", "ZZ", bad_words(2))),
+    (clashes, ("one", "XI", None), ("other", "ZZ", bad_words(2))),
+    (sum_of, ("places", 2, None), ("words", ("XI", "II"), bad_tuples_of_words(2))),
+    (moved, ("word", "XYZ", None), ("order", (2, 0, 1), bad_orders(3))),
+    (recast, ("word", "XYZ", None), ("place", 2, bad_numbers(3)), ("turned_to", "ZXY", BAD_RECASTS)),
+    (beside, ("one", "XI", None), ("other", "Z", ["", "x", "XA", None, True, 1, (), ("X",), ["X"], " X", "-"])),
+    (with_word, ("house", LINE, None), ("word", "IZ", bad_words(2) + ["II", "XI", "ZZ", "IX"])),
+    (without_word, ("house", LINE, None), ("told", 2, bad_numbers(3))),
+    (kept_words, ("house", LINE, None), ("lot", (0, 2), bad_lots(3))),
+    (reordered, ("house", LINE, None), ("order", (2, 0, 1), bad_orders(3))),
+    (moved_house, ("house", SIX, None), ("order", (2, 0, 1), bad_orders(3))),
+    (recast_house, ("house", LINE, None), ("place", 1, bad_numbers(2)), ("turned_to", "YXZ", BAD_RECASTS)),
+    (beside_house, ("house", LINE, None), ("other", (1, ("X",)), BAD_HOUSES)),
+    (turned, ("word", "XI", None), ("by", "ZZ", bad_words(2))),
+    (turned_along, ("word", "XI", None), ("words", ("ZZ", "II"), bad_tuples_of_words(2))),
+    (told_walk, ("house", LINE, None), ("word", "XI", bad_words(2)),
+     ("tolds", (2, 1, 1), [None, 0, True, [0], [], (3,), (0, 3), (-1,), (True,), (0, None), "0", ((0,),), (10 ** 40,)])),
+] + [
+    (function, ("places", 2, None), ("words", ("XI", "II"), bad_tuples_of_words(2)))
+    for function in (dimension_of, are_independent, first_basis, apart_basis, rest_basis, rank_of)
+] + [
+    (is_sum, ("places", 2, None), ("words", ("XI", "II"), bad_tuples_of_words(2)), ("word", "ZZ", bad_words(2))),
+    (sum_paper, ("places", 2, None), ("words", ("XI", "II"), bad_tuples_of_words(2)), ("word", "ZZ", bad_words(2))),
+    (lets_sum, ("places", 2, None), ("words", ("XI", "IX"), bad_tuples_of_words(2)), ("word", "XX", bad_words(2)),
+     ("thing", ("lot", (0, 1)), None)),
+    (word_by, ("places", 1, None), ("words", ("X", "Z"), bad_tuples_of_words(1)), ("wishes", (1, 0), bad_wishes(2))),
+    (wish_paper, ("places", 1, None), ("words", ("X", "Z"), bad_tuples_of_words(1)), ("wishes", (1, 0), bad_wishes(2))),
+    (lets_wishes, ("places", 1, None), ("words", ("X", "Z"), bad_tuples_of_words(1)), ("wishes", (1, 0), bad_wishes(2)),
+     ("thing", ("word", "Z"), None)),
+    (read_short, ("places", 3, None), ("text", "X0 Z2", BAD_TEXTS)),
+    (read_house, ("text", "1; X Z", BAD_TEXTS)),
+    (piece_at, ("house", HOUSE, None), ("told", 3, bad_numbers(4))),
+    (met_by, ("house", HOUSE, None), ("word", "XYZ", bad_words(3))),
+    (lot_sum, ("house", HOUSE, None), ("lot", (0, 3), bad_lots(4))),
+    (is_odd, ("house", HOUSE, None), ("lot", (0, 3), bad_lots(4))),
+    (part_of, ("house", HOUSE, None), ("lot", (0, 3), bad_lots(4)), ("piece", 1, bad_numbers(2))),
+    (lots_added, ("one", (0, 1), None),
+     ("other", (1, 2), [None, 0, True, "", [1], [], (1, 1), (2, 1), (-1,), (True,), (False, 1), (None,), ("1",), ((1,),)])),
+    (is_pairing, ("house", HOUSE, None), ("piece", 1, bad_numbers(2)), ("thing", ((0, 1),), None)),
+    (ends_of, ("house", LINE, None), ("piece", 0, bad_numbers(1)), ("pairs", PAIRS, BAD_PAIRINGS),
+     ("lot", (0, 2), bad_lots(3))),
+    (pairing_of, ("house", HOUSE, None), ("piece", 1, bad_numbers(2))),
+    (lot_with_ends, ("house", LINE, None), ("piece", 0, bad_numbers(1)), ("pairs", PAIRS, BAD_PAIRINGS),
+     ("ends", (0, 3), bad_lots(4) + [(0,), (0, 1, 2)])),
+    (ring_basis, ("house", LINE, None), ("piece", 0, bad_numbers(1)), ("pairs", PAIRS, BAD_PAIRINGS)),
+    (whole_relation, ("house", LINE, None), ("piece", 0, bad_numbers(1)), ("pairs", PAIRS, BAD_PAIRINGS)),
+    (point_words, ("house", LINE, None), ("piece", 0, bad_numbers(1)), ("pairs", PAIRS, BAD_PAIRINGS)),
+    (six_of, ("house", SIX, None), ("piece", 0, bad_numbers(1))),
+    (kind_of, ("house", HOUSE, None), ("piece", 1, bad_numbers(2))),
+    (odd_relation, ("house", HOUSE, None), ("piece", 1, bad_numbers(2))),
+    (sign_word, ("house", HOUSE, None), ("piece", 1, bad_numbers(2))),
+    (sign_by, ("sign", "YXZ", None), ("word", "XII", bad_words(3))),
+    (kind_paper, ("house", HOUSE, None), ("piece", 1, bad_numbers(2))),
+    (lets_kind, ("house", BOTH, None), ("piece", 1, bad_numbers(2)), ("thing", ("lone",), None)),
+    (read_pairs, ("text", "0-1", BAD_TEXTS)),
+    (Piece, ("house", BOTH, BAD_HOUSES), ("piece", 1, bad_numbers(2))),
+    (meeting_of, ("house", DUO, None), ("word", "YZ", bad_words(2)), ("piece", 1, bad_numbers(2))),
+    (meetings_of, ("house", DUO, None), ("word", "YZ", bad_words(2))),
+    (is_still, ("house", DUO, None), ("word", "YZ", bad_words(2))),
+    (coins_of, ("house", LINE, None), ("piece", 0, bad_numbers(1)), ("pairs", PAIRS, BAD_PAIRINGS),
+     ("word", "ZI", bad_words(2))),
+    (coins_after, ("house", LINE, None), ("piece", 0, bad_numbers(1)), ("pairs", PAIRS, BAD_PAIRINGS),
+     ("word", "ZI", bad_words(2)), ("lot", (0, 2), bad_lots(3))),
+    (is_let, ("house", DUO, None), ("word", "ZI", bad_words(2)), ("lot", (0, 1), bad_lots(3) + [(2,), (0, 2), (0, 1, 2)])),
+    (side_of, ("house", DUO, None), ("word", "ZI", bad_words(2)), ("lot", (0, 1), bad_lots(3) + [(2,), (0, 2)]),
+     ("piece", 0, bad_numbers(2) + [1])),
+    (shift_of, ("house", (2, DUO[1] + ("YI",)), None), ("word", "ZI", bad_words(2)),
+     ("lot", (0, 1, 3), bad_lots(4) + [(2,), (0, 2), (0,), (0, 1), (1, 3)]), ("piece", 0, bad_numbers(2) + [1])),
+    (comes_of, ("house", LINE, None), ("word", "XI", bad_words(2)), ("other", "IX", bad_words(2))),
+    (lot_from, ("house", LINE, None), ("word", "XI", bad_words(2)), ("other", "IX", bad_words(2))),
+    (refusal_of, ("house", LINE, None), ("word", "XI", bad_words(2)), ("other", "II", bad_words(2))),
+    (lets_refusal, ("house", LINE, None), ("word", "XI", bad_words(2)), ("other", "II", bad_words(2)),
+     ("thing", ("still", 0), None)),
+    # Where pairs follow, the piece is to be a lone or paired one.
+] + [
+    (function, ("house", (4, ("XIII", "ZIII", "XXII", "IZII", "IXXI", "IZZI", "IIIX")), None),
+     ("piece", 1, bad_numbers(2) + [0]), ("pairs", ((0, 1),), [None, ((0, 2),), ((1, 2),), [(0, 1)], (), FIVE_PAIRS]), *more)
+    for function, more in (
+        (ends_of, (("lot", (), bad_lots(7)),)), (lot_with_ends, (("ends", (0, 1), [(0,), (1,), (0, 2), None]),)),
+        (ring_basis, ()), (whole_relation, ()), (point_words, ()),
+        (coins_of, (("word", "IIIZ", bad_words(4)),)),
+        (coins_after, (("word", "IIIZ", bad_words(4)), ("lot", (0, 6), bad_lots(7)))),
+    )
+] + [
+    (Piece(MORE, 0).made, ("word", "IIZ", bad_words(3))),
+]
+
+
+def first_wrong(function, names, values):
+    """The parameter that NotUsable names, or None; by position and by name it must be the same."""
+    found = []
+    for args, named in ((values, {}), ((), dict(zip(names, values)))):
+        try:
+            function(*args, **named)
+            found.append(None)
+        except NotUsable as error:
+            found.append((error.word, error.at))
+    assert found[0] == found[1], (function, names, values, found)
+    return found[0]
+
+
+class UsableTest(unittest.TestCase):
+    def test_good_values(self):
+        for function, *params in CASES:
+            names = [name for name, _, _ in params]
+            self.assertIsNone(first_wrong(function, names, [good for _, good, _ in params]), (function, names))
+
+    def test_one_wrong_parameter(self):
+        for function, *params in CASES:
+            names = [name for name, _, _ in params]
+            for k, (name, _, bads) in enumerate(params):
+                for bad in bads or ():
+                    values = [good for _, good, _ in params]
+                    values[k] = bad
+                    self.assertEqual(first_wrong(function, names, values), (name, -1), (function, values))
+
+    def test_two_wrong_parameters(self):
+        for function, *params in CASES:
+            names = [name for name, _, _ in params]
+            refusable = [k for k, param in enumerate(params) if param[2]]
+            for low, high in itertools.combinations(refusable, 2):
+                for bad in params[low][2]:
+                    for worse in params[high][2][:3]:
+                        values = [good for _, good, _ in params]
+                        values[low], values[high] = bad, worse
+                        self.assertEqual(first_wrong(function, names, values), (names[low], -1), (function, values))
+
+    def test_all_wrong_parameters(self):
+        for function, *params in CASES:
+            refusable = [param for param in params if param[2]]
+            if refusable:
+                names = [name for name, _, _ in params]
+                values = [bads[0] if bads else good for _, good, bads in params]
+                self.assertEqual(first_wrong(function, names, values), (refusable[0][0], -1))
+
+    def test_a_wrong_parameter_comes_before_other_errors(self):
+        # Odd, Unlike, Ringed and InvalidPaper wait until all parameters are as stated.
+        self.assertEqual(first_wrong(word_by, ["places", "words", "wishes"], [1, ("I",), (True,)]), ("wishes", -1))
+        self.assertEqual(first_wrong(pairing_of, ["house", "piece"], [SIX, 1]), ("piece", -1))
+        self.assertEqual(first_wrong(six_of, ["house", "piece"], [LINE, 1]), ("piece", -1))
+        self.assertEqual(first_wrong(sign_word, ["house", "piece"], [MORE, True]), ("piece", -1))
+        ringed = (2, ("XI", "ZI", "YZ"))
+        pairs = ((0, 1), (1, 2), (0, 2))
+        names = ["house", "piece", "pairs", "word", "lot"]
+        self.assertEqual(first_wrong(coins_after, names, [ringed, 0, pairs, "IX", (3,)]), ("lot", -1))
+        self.assertEqual(first_wrong(lets_kind, ["house", "piece", "thing"], [LINE, 1, None]), ("piece", -1))
+        names = ["house", "word", "other", "thing"]
+        self.assertEqual(first_wrong(lets_refusal, names, [LINE, "XI", "X", None]), ("other", -1))
+        self.assertEqual(first_wrong(point_words, names[:1] + ["piece", "pairs"], [FIVE, 0, PAIRS]), ("pairs", -1))
+
+
+if __name__ == "__main__":
+    unittest.main()
