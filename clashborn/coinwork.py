@@ -12,8 +12,6 @@ from clashborn.usable import need_lot, need_word
 def coins_or_ring(frame, piece, pairs, clash_mask):
     """A pair (coins, ring), just one of them not None; clash_mask is of the told words that clash with the word."""
     flips = [(clash_mask >> told) & 1 for told in frame.pieces[piece]]
-    if 1 not in flips:
-        return (), None
     coins, ring = coins_by(pairs, flips)
     if coins is None:
         return None, told_lot(frame, piece, ring)

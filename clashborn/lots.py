@@ -4,6 +4,7 @@ from clashborn.bits import lot_of, mask_of
 from clashborn.frames import Frame
 from clashborn.kinds import is_rising
 from clashborn.letters import plain_sum
+from clashborn.pointtrees import lots_merged
 from clashborn.usable import need, need_lot, need_piece
 
 
@@ -30,4 +31,4 @@ def part_of(house, lot, piece):
 def lots_added(one, other):
     """The numbers that are in just one of two lots of any things."""
     need(is_rising(other), "other")
-    return tuple(sorted([k for k in one if k not in other] + [k for k in other if k not in one]))
+    return tuple(lots_merged(one, other))

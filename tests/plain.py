@@ -277,6 +277,16 @@ def ringed_house(chance, points, many):
     return (places, tuple(marked[:1] + fresh[:1] + [word for word in marked[1:] if word not in fresh] + fresh[1:]))
 
 
+def parted_house(chance, points, side, tail):
+    """A paired house with one word more, told at any place, that clashes with just the pairs with one point in side."""
+    places, words = paired_house(chance, points, points - 1)
+    marks = ["Z" * (point // 2) + "XY"[point % 2] + "I" * (places - point // 2 - 1) for point in range(points)]
+    fresh = plus(total(places, [marks[point] for point in side]), "I" * (places - 2) + tail)
+    told = list(words)
+    told.insert(chance.randrange(points), fresh)
+    return (places, tuple(told))
+
+
 def six_house(chance, many):
     """A house of one piece without a pairing, on few places if many is small."""
     places = 3 if many < 12 else 8

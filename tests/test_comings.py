@@ -243,19 +243,45 @@ class RefusalsTest(unittest.TestCase):
         # A word of an unmet piece is no told word of a met one.
         refused(self, ("lot", -1), house, word, plain.plus(other, "IIIIIX"), ("signs", lot + (9,), (0,)))
 
+    def test_sides_and_shifts_are_added_over_pieces(self):
+        # Four pieces of three words; the words of each have the sum of the last three letters of its third word.
+        tails = ("ZII", "IZI", "IIZ", "ZZZ")
+        words = []
+        for k, tail in enumerate(tails):
+            heads = ["I" * k + letter + "I" * (3 - k) for letter in "XZY"]
+            words += [heads[0] + "III", heads[1] + "III", heads[2] + tail]
+        house, word = (7, tuple(words)), "IIIIXXX"
+        relation = tuple(range(12))
+        self.assertEqual(plain.relations(house), [(), relation])
+        self.assertEqual([shift_of(house, word, relation, piece) for piece in range(4)], [1, 1, 1, 1])
+        for lot, pieces, wanted in (
+            ((0,), (0, 1, 2), ("shift", -1)), ((0,), (0,), ("shift", -1)), ((0,), (0, 1), None),
+            ((0,), (0, 1, 2, 3), None), ((0, 3), (0, 1), ("even", -1)), ((0, 3), (0, 2), None),
+            ((0, 3, 6), (0, 1, 2), ("shift", -1)), ((0, 3, 6), (0, 1, 2, 3), None), ((0, 3, 6, 9), (0, 1), ("even", -1)),
+            ((0, 3, 6, 9), (0, 1, 2, 3), ("even", -1)),
+        ):
+            other = plain.plus(word, plain.lot_total(house, lot))
+            if wanted is None:
+                self.assertEqual(lets_refusal(house, word, other, ("signs", lot, pieces)), "signs")
+                self.assertIs(comes_of(house, word, other), False)
+            else:
+                refused(self, wanted, house, word, other, ("signs", lot, pieces))
+
     def test_sides_of_coined_pieces(self):
         house = (5, tuple(word + "II" for word in ROW[1]) + ("IIIXI", "IIIZI"))
         word = "ZZZXI"
         for lot, pieces, wanted in (
             ((1, 5), (0, 1), ("side", 0)), ((1,), (0,), ("side", 0)), ((1,), (1,), ("even", -1)),
             ((5,), (0, 1), None), ((5,), (0,), ("even", -1)), ((5,), (1,), None), ((1, 5), (1,), None),
-            ((1, 2, 5), (0, 1), None), ((2, 5), (0, 1), ("side", 0)), ((), (0, 1), ("even", -1)),
+            ((1, 2, 5), (0, 1), ("side", 0)), ((2, 5), (0, 1), ("side", 0)), ((), (0, 1), ("even", -1)),
+            ((1, 3), (0,), None), ((1, 3), (0, 1), None), ((1, 3, 5), (0, 1), ("even", -1)), ((1, 3, 5), (0,), None),
+            ((2, 4, 5), (1,), None), ((0, 2, 4), (0, 1), None), ((1, 4), (1,), ("even", -1)),
         ):
             other = plain.plus(word, plain.lot_total(house, lot))
             if wanted is None:
-                sides = [plain.side(house, word, lot, plain.pieces(house)[piece]) for piece in pieces]
-                if None not in sides and sum(sides) % 2:
-                    self.assertEqual(lets_refusal(house, word, other, ("signs", lot, pieces)), "signs")
+                # All told words are independent, so there is no other joint lot and other does not come.
+                self.assertEqual(lets_refusal(house, word, other, ("signs", lot, pieces)), "signs")
+                self.assertIs(comes_of(house, word, other), False)
             else:
                 refused(self, wanted, house, word, other, ("signs", lot, pieces))
         # Behind the first piece, the place in pieces is told, not the number of the piece.

@@ -28,6 +28,8 @@ class KindsTest(unittest.TestCase):
             self.assertIs(is_word(thing), thing in ("X", "XI", "I"))
         for thing in ("IXYZ", "Z" * 60, "Z" * 4000):
             self.assertIs(is_word(thing), True)
+        for code in range(32, 127):
+            self.assertIs(is_word("X" + chr(code)), chr(code) in "IXYZ")
         for thing in ("ixyz", "IXYZ ", " X", "X\n", "XYZ0", "IX-", ("X",), ["X"], b"X"):
             self.assertIs(is_word(thing), False)
 

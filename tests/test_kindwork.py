@@ -210,7 +210,8 @@ class KindPapersTest(unittest.TestCase):
         self.refused(house, 0, ("strict", house[1], rows, "IIIYXZ"), "ladder")
         self.assertEqual(lets_kind(house, 0, ("strict", house[1][:6], rows, "ZXYYXZ")), "strict")
         # An odd relation of the house that is not within the piece.
-        both = (4, tuple(word + "I" for word in SIX[1]) + ("IIIX", "IIIZ", "IIIY"))
+        both = (5, tuple(word + "II" for word in SIX[1]) + ("IIIXI", "IIIIX", "IIIXX"))
+        self.assertTrue(plain.odd(both, (6, 7, 8)))
         self.refused(both, 0, ("loose", both[1][:6], rows, (6, 7, 8)), "lot")
 
     def test_examples(self):

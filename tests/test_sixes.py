@@ -4,6 +4,7 @@ import itertools
 import unittest
 
 from clashborn.errors import InvalidPaper, Unlike
+from clashborn.kindpapers import kind_paper
 from clashborn.ladderchecker import lets_ladder
 from clashborn.sixes import is_six, six_of
 from tests import plain
@@ -44,6 +45,20 @@ class SixesTest(unittest.TestCase):
             self.assertTrue(is_six(house[0], six))
             if house[0] < 5:
                 self.assertLessEqual(set(six), plain.made_words((house[0], tuple(house[1][k] for k in lot))))
+
+    def test_words_that_part_many_points(self):
+        chance = plain.chance_of(272)
+        for points in (6, 7, 8, 9, 12):
+            for many in range(3, points - 2):
+                # An even side, as the words of so many points then clash with pairs as stated.
+                side = sorted(chance.sample(range(points), many - many % 2 + 2 * (many == 3)))
+                if 3 <= len(side) <= points - 3:
+                    house = plain.parted_house(chance, points, side, chance.choice(("II", "XX")))
+                    six = six_of(house, 0)
+                    self.assertTrue(plain.is_six(six))
+                    paper = kind_paper(house, 0)
+                    self.assertTrue(plain.is_ladder(house, paper[1]))
+                    self.assertEqual(tuple(paper[1][row] for row in paper[2]), six)
 
     def test_sixes_lie_in_their_own_piece(self):
         house = (6, tuple("III" + word for word in SIX[1]) + tuple(word + "III" for word in MORE[1]))
