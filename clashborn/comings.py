@@ -7,53 +7,64 @@ from clashborn.meetings import Visit
 from clashborn.usable import need_other, need_word
 
 
-def joint_mask(visit, code):
-    """The mask of a lot of told words of met pieces with the sum of this code, or None."""
-    lot = lot_of(visit.met_mask)
-    local = lot_with_sum([visit.frame.codes[told] for told in lot], code)
-    if local is None:
-        return None
-    return mask_of([lot[k] for k in lot_of(local)])
+class Start:
+    """A word of a house, made ready to tell of any other word whether it comes of it."""
 
+    def __init__(self, frame, word):
+        self.frame = frame
+        self.visit = Visit(frame, word)
+        self.lot = lot_of(self.visit.met_mask)
+        self.bound = [piece for piece in self.visit.met_pieces if self.visit.is_bound(piece)]
+        self.relations = frame.relations(self.visit.met_mask)
+        self.shifts = [mask_of([k for k, piece in enumerate(self.bound) if shift_at(self.visit, relation, piece) == 1])
+                       for relation in self.relations]
 
-def parting_word(visit, code):
-    """A word that is apart from all told words of met pieces and clashes with the word of this code."""
-    frame = visit.frame
-    swaps = [frame.swaps[told] for told in lot_of(visit.met_mask)]
-    check, _ = crossing_all(swaps + [swapped(frame.places, code)], [0] * len(swaps) + [1])
-    return word_of(frame.places, check)
+    def joint_mask(self, code):
+        """The mask of a lot of told words of met pieces with the sum of this code, or None."""
+        local = lot_with_sum([self.frame.codes[told] for told in self.lot], code)
+        if local is None:
+            return None
+        return mask_of([self.lot[k] for k in lot_of(local)])
 
+    def parting_word(self, code):
+        """A word that is apart from all told words of met pieces and clashes with the word of this code."""
+        swaps = [self.frame.swaps[told] for told in self.lot]
+        check, _ = crossing_all(swaps + [swapped(self.frame.places, code)], [0] * len(swaps) + [1])
+        return word_of(self.frame.places, check)
 
-def sides_verdict(visit, mask):
-    """As verdict_of, when the joint lot of this mask has a side in each bound piece."""
-    bound = [piece for piece in visit.met_pieces if visit.is_bound(piece)]
-    sides = mask_of([k for k, piece in enumerate(bound) if side_at(visit, mask, piece) == 1])
-    relations = visit.frame.relations(visit.met_mask)
-    shifts = [mask_of([k for k, piece in enumerate(bound) if shift_at(visit, relation, piece) == 1])
-              for relation in relations]
-    chosen = lot_with_sum(shifts, sides)
-    if chosen is not None:
-        return ("lot", lot_of(mask ^ mask_sum(relations, chosen)))
-    # No relations shift all sides to 0, so some of the pieces hold against all of them.
-    holding, _ = crossing_all(shifts + [sides], [0] * len(shifts) + [1])
-    return ("signs", lot_of(mask), tuple([bound[k] for k in lot_of(holding)]))
+    def sides_verdict(self, mask):
+        """As verdict, when the joint lot of this mask has a side in each bound piece."""
+        sides = mask_of([k for k, piece in enumerate(self.bound) if side_at(self.visit, mask, piece) == 1])
+        chosen = lot_with_sum(self.shifts, sides)
+        if chosen is not None:
+            return ("lot", lot_of(mask ^ mask_sum(self.relations, chosen)))
+        # No relations shift all sides to 0, so some of the pieces hold against all of them.
+        holding, _ = crossing_all(self.shifts + [sides], [0] * len(self.shifts) + [1])
+        return ("signs", lot_of(mask), tuple([self.bound[k] for k in lot_of(holding)]))
+
+    def verdict(self, other_code):
+        """("lot", lot) as lot_from if the word of this code comes, otherwise a refusal."""
+        other_mask = self.frame.crossing(other_code)
+        for piece in self.visit.met_pieces:
+            if other_mask & self.frame.piece_masks[piece] == 0:
+                return ("still", piece)
+        code = self.visit.word_code ^ other_code
+        mask = self.joint_mask(code)
+        if mask is None:
+            return ("apart", self.parting_word(code))
+        for piece in self.visit.met_pieces:
+            if side_at(self.visit, mask, piece) is None:
+                return ("coins", piece, self.visit.manner(piece)[1], lot_of(mask))
+        return self.sides_verdict(mask)
+
+    def comes(self, other_code):
+        """True if the word of this code comes, otherwise False."""
+        return self.verdict(other_code)[0] == "lot"
 
 
 def verdict_of(frame, word, other):
     """("lot", lot) as lot_from if other comes of word, otherwise a refusal."""
-    visit = Visit(frame, word)
-    other_mask = frame.crossing(code_of(other))
-    for piece in visit.met_pieces:
-        if other_mask & frame.piece_masks[piece] == 0:
-            return ("still", piece)
-    code = visit.word_code ^ code_of(other)
-    mask = joint_mask(visit, code)
-    if mask is None:
-        return ("apart", parting_word(visit, code))
-    for piece in visit.met_pieces:
-        if side_at(visit, mask, piece) is None:
-            return ("coins", piece, visit.manner(piece)[1], lot_of(mask))
-    return sides_verdict(visit, mask)
+    return Start(frame, word).verdict(code_of(other))
 
 
 def comes_of(house, word, other):

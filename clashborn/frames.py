@@ -38,6 +38,10 @@ class Frame:
         self.ties = [crossing_mask(code, self.swaps) for code in self.codes]
         self.pieces = pieces_from(self.ties)
         self.piece_masks = [mask_of(lot) for lot in self.pieces]
+        # What is found out of a piece, by its number, so that it is found out once.
+        self.walks = {}
+        self.forms = {}
+        self.starts = {}
 
     def crossing(self, code):
         """The mask of the told words that clash with the word of this code."""

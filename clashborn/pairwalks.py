@@ -85,7 +85,9 @@ class Walk:
 
 def walk_of(frame, piece):
     """The walk through the piece of this number."""
-    return Walk(frame.ties, frame.pieces[piece])
+    if piece not in frame.walks:
+        frame.walks[piece] = Walk(frame.ties, frame.pieces[piece])
+    return frame.walks[piece]
 
 
 def odd_mask(frame, piece):

@@ -112,6 +112,15 @@ def check_refusal(frame, word, other, thing):
         check_signs(visit, code, thing)
 
 
+def is_refusal(frame, word, other, thing):
+    """True if thing is a refusal of other, from word."""
+    try:
+        check_refusal(frame, word, other, thing)
+    except InvalidPaper:
+        return False
+    return True
+
+
 def refusal_of(house, word, other):
     """None if other comes of word, otherwise any refusal of other, from word."""
     need_word(house[0], word)

@@ -388,3 +388,93 @@ def shift(house, word, relation, lot):
     if 2 * len(have) == points:
         return 0
     return int(len(ends(pairs, [lot.index(k) for k in within])) == points)
+
+
+def steps(house, word, by):
+    """For each word that turns by these words lead to how many turns do so at least, by plain walking."""
+    found = {word: 0}
+    edge = [word]
+    while edge:
+        fresh = []
+        for here in edge:
+            for turn in by:
+                if clash(here, turn):
+                    there = plus(here, turn)
+                    if there not in found:
+                        found[there] = found[here] + 1
+                        fresh.append(there)
+        edge = fresh
+    return found
+
+
+def counted(found):
+    """How many values of the dict are 0, 1 and so on, up to the greatest one."""
+    return tuple(list(found.values()).count(k) for k in range(max(found.values()) + 1))
+
+
+def sharing(house, numbers):
+    """The first of these pieces at which they share, or None, by plain gathering of sums."""
+    lots = pieces(house)
+    for k, number in enumerate(numbers):
+        own = sums(house[0], [house[1][told] for told in lots[number]])
+        before = sums(house[0], [house[1][told] for other in numbers[:k] for told in lots[other]])
+        if len(own & before) > 1:
+            return number
+    return None
+
+
+def whole_house(chance, half, more=0, tail=0, tails=0.5):
+    """A paired piece of 2 * half + 2 points: all of them whole without a tail, and rings where tails differ."""
+    row = []
+    for k in range(half):
+        row.append("I" * k + "X" + "I" * (half - k - 1))
+        row.append("I" * k + "ZZ" + "I" * (half - k - 2) if k < half - 1 else "I" * k + "Z")
+    row.append("X" * half)
+    heads = list(row)
+    for _ in range(more):
+        low, high = sorted(chance.sample(range(2 * half + 2), 2))
+        heads.append(total(half, row[low:high]))
+    words = []
+    for head in heads:
+        word = head + "".join(chance.choice("IX") if chance.random() < tails else "I" for _ in range(tail))
+        if word not in words and set(word) != {"I"}:
+            words.append(word)
+    chance.shuffle(words)
+    return (half + tail, tuple(words))
+
+
+def beside(house, other):
+    """Both houses as one, on places of their own."""
+    words = [word + "I" * other[0] for word in house[1]] + ["I" * house[0] + word for word in other[1]]
+    return (house[0] + other[0], tuple(words))
+
+
+def alone(house, piece):
+    """The house with the words of the piece alone."""
+    return (house[0], tuple(house[1][told] for told in pieces(house)[piece]))
+
+
+# Two pieces of three words that share IIZZ, and three lone ones of which the third one is the sum of the others.
+SHARED = (4, ("XIII", "ZIII", "YIXI", "IXII", "IZII", "IYXI"))
+LONES = (3, ("XII", "IXI", "XXI"))
+# A whole relation on six points.
+WHOLE = (3, ("XII", "ZII", "XXI", "IZI", "IXX", "XXX"))
+
+
+def small_houses(seed):
+    """Houses with pieces of all sorts, on places so few that plain walking and gathering are quick."""
+    chance = chance_of(seed)
+    found = list(NAMED) + [SHARED, LONES, WHOLE, (1, ()), (2, ())]
+    found += [random_house(chance, places, many) for places in (1, 2, 2, 3, 3, 4) for many in (1, 2, 3, 5, 7)]
+    found += [six_house(chance, many) for many in (6, 7, 8, 9)]
+    found += [whole_house(chance, half, more, tail) for half, more, tail in (
+        (2, 0, 0), (2, 1, 1), (2, 2, 2), (2, 3, 2), (3, 0, 0), (3, 1, 1), (3, 2, 1))]
+    # Paired pieces of three to five points, with and without rings.
+    for many in (2, 3, 4):
+        chain = ("XIII", "ZZII", "IXII", "IZZI")[:many]
+        found += [(4, chain), (4, chain + tuple(word[:3] + "X" for word in chain[:2]))]
+    # A strict and a loose piece with a rest of two words, of the strict one both with the sign 0.
+    found += [(4, tuple(word + "I" for word in house[1]) + ("XIIX",)) for house in (SIX, MORE)]
+    found += [beside(LINE, TRIO), beside(SIX, LINE)]
+    found.append(beside((1, ("X",)), (3, ("XII", "ZII", "YXI"))))
+    return found

@@ -5,15 +5,20 @@ import importlib
 import inspect
 import unittest
 
+from clashborn.comingpapers import lets_coming
 from clashborn.errors import InvalidPaper
 from clashborn.housechecker import lets_house
 from clashborn.kindpapers import lets_kind
 from clashborn.kinds import is_house, is_lot, is_words
 from clashborn.ladderchecker import lets_ladder
+from clashborn.making import lets_unmade
 from clashborn.pairings import is_pairing
 from clashborn.refusals import lets_refusal
 from clashborn.sixes import is_six
 from clashborn.sumpapers import lets_sum
+from clashborn.toldrows import lets_told_row
+from clashborn.turnchecker import lets_turns
+from clashborn.turnpapers import lets_turn_paper
 from clashborn.wishing import lets_wishes
 from tests import plain
 
@@ -53,6 +58,20 @@ FILES = {
     "lettings": "is_let(house, word, lot), side_of(house, word, lot, piece), shift_of(house, word, lot, piece)",
     "comings": "comes_of(house, word, other), lot_from(house, word, other)",
     "refusals": "refusal_of(house, word, other), lets_refusal(house, word, other, thing)",
+    "comingpapers": "coming_paper(house, word, other), lets_coming(house, word, other, thing)",
+    "making": "is_made(house, word), maker_of(house, word), unmade_paper(house, word), lets_unmade(house, word, thing)",
+    "walking": "walked(house, word), made_walked(house, piece)",
+    "classings": "classes_among(house, words), first_of(house, word)",
+    "sharings": "share_at(house, pieces)",
+    "fewest": "fewest_turns(house, word, other)",
+    "turnwords": "turn_words(house, word, other)",
+    "turnchecker": "lets_turns(house, word, thing)",
+    "farthest": "farthest_turns(house, word)",
+    "climbing": "ladder_of(house, word)",
+    "laddertools": "used_rows(house, ladder, row), trimmed(house, ladder), ladders_joined(house, ladder, other)",
+    "turnpapers": "turn_paper(house, word, other), lets_turn_paper(house, word, other, thing)",
+    "toldrows": "told_row(house, word, other), lets_told_row(house, word, other, thing)",
+    "spreads": "told_spread(house, word), made_spread(house, word)",
 }
 CLASSES = {
     ("houseclasses", "House"): "__init__(self, places, *words), told(self), with_word(self, word), "
@@ -60,6 +79,8 @@ CLASSES = {
                                "__add__(self, other)",
     ("piececlasses", "Piece"): "__init__(self, house, piece), kind(self), told(self), paper(self), sign(self), "
                                "made(self, word), __eq__(self, other)",
+    ("sourceclasses", "Source"): "__init__(self, house, word), comes(self, other), refusal(self, other), meets(self), "
+                                 "turned(self, told), held(self), same_class(self, other), __eq__(self, other)",
 }
 
 
@@ -95,7 +116,7 @@ class ValuesTest(unittest.TestCase):
             deep = (deep,) if level % 2 else [deep]
         wide = tuple(range(4999))
         words = [["XI", "ZZ"], ["IX", ["XI"]], [0, [1, 2]]]
-        firsts = ("lot", "apart", "word", "odd", "lone", "paired", "strict", "loose", "still", "coins", "signs")
+        firsts = ("lot", "apart", "word", "odd", "lone", "paired", "strict", "loose", "still", "coins", "signs", "turns")
         found = [deep, [deep], wide, list(wide), words, "X" * 4000, "IXYZ\n", 10 ** 59, -(10 ** 59), True, None, ()]
         for first in firsts:
             for rest in (deep, wide, words, 10 ** 59, True, None, "X" * 4000, ()):
@@ -111,7 +132,11 @@ class ValuesTest(unittest.TestCase):
             lambda thing: lets_kind(plain.LINE, 0, thing), lambda thing: lets_kind(plain.SIX, 0, thing),
             lambda thing: lets_kind(plain.BOTH, 1, thing), lambda thing: lets_refusal(plain.LINE, "XI", "II", thing),
             lambda thing: lets_refusal(plain.SIX, "XII", "IIZ", thing),
-            lambda thing: lets_refusal(plain.ROW, "ZZZ", "IZZ", thing),
+            lambda thing: lets_refusal(plain.ROW, "ZZZ", "IZZ", thing), lambda thing: lets_coming(plain.ROW, "ZZZ", "IZZ", thing),
+            lambda thing: lets_unmade(plain.LINE, "II", thing), lambda thing: lets_unmade(plain.DUO, "II", thing),
+            lambda thing: lets_turns(plain.LINE, "XI", thing),
+            lambda thing: lets_turn_paper(plain.LINE, "XI", "IX", thing),
+            lambda thing: lets_told_row(plain.LINE, "XI", "IX", thing),
         )
         for thing in self.any_values():
             kept = copy.deepcopy(thing)

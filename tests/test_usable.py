@@ -3,16 +3,23 @@
 import itertools
 import unittest
 
+from clashborn.classings import classes_among, first_of
+from clashborn.climbing import ladder_of
 from clashborn.coinwork import coins_after, coins_of
+from clashborn.comingpapers import coming_paper, lets_coming
 from clashborn.comings import comes_of, lot_from
 from clashborn.errors import NotUsable
+from clashborn.farthest import farthest_turns
+from clashborn.fewest import fewest_turns
 from clashborn.housechanges import (
     beside_house, kept_words, moved_house, recast_house, reordered, with_word, without_word,
 )
 from clashborn.kindpapers import kind_paper, lets_kind
+from clashborn.laddertools import ladders_joined, trimmed, used_rows
 from clashborn.letters import added, clashes, sum_of
 from clashborn.lettings import is_let, shift_of, side_of
 from clashborn.lots import is_odd, lot_sum, lots_added, part_of
+from clashborn.making import is_made, lets_unmade, maker_of, unmade_paper
 from clashborn.meetings import is_still, meeting_of, meetings_of
 from clashborn.pairings import ends_of, is_pairing, pairing_of
 from clashborn.pairtexts import read_pairs
@@ -20,12 +27,20 @@ from clashborn.pairwork import lot_with_ends, point_words, ring_basis, whole_rel
 from clashborn.piececlasses import Piece
 from clashborn.piecekinds import kind_of, odd_relation
 from clashborn.refusals import lets_refusal, refusal_of
+from clashborn.sharings import share_at
 from clashborn.signs import sign_by, sign_word
 from clashborn.sixes import six_of
+from clashborn.sourceclasses import Source
 from clashborn.spans import apart_basis, are_independent, dimension_of, first_basis, rank_of, rest_basis
+from clashborn.spreads import made_spread, told_spread
 from clashborn.sumpapers import is_sum, lets_sum, sum_paper
 from clashborn.tiework import met_by, piece_at
+from clashborn.toldrows import lets_told_row, told_row
+from clashborn.turnchecker import lets_turns
 from clashborn.turning import told_walk, turned, turned_along
+from clashborn.turnpapers import lets_turn_paper, turn_paper
+from clashborn.turnwords import turn_words
+from clashborn.walking import made_walked, walked
 from clashborn.wishing import lets_wishes, wish_paper, word_by
 from clashborn.wordchanges import beside, moved, recast
 from clashborn.wordreadings import read_house, read_short
@@ -81,6 +96,10 @@ BAD_PAIRINGS = [
     ((0, 1), (1, 2), (2, 3, 4)), ((False, True), (True, 2), (2, 3)), ((0, 0), (1, 2), (2, 3)), ((-1, 0), (0, 1), (1, 2)),
     ((0, 1), (1, 2), None), (0, 1, 2), ((0, 1), (1, 2), ("2", "3")), ((0, 1), (1, 2), (2, 10 ** 40)),
     ((0, 1), (2, 3), (0, 1)),
+]
+
+BAD_LADDERS = [
+    None, True, 0, "", "XI", (), ["XI"], ("II",), ("YZ",), ("XI", "IX", "XX"), ("XI", None), ("X",), (("XI",),),
 ]
 
 # Each case: the function, then for each parameter its name, a good value, and the values to refuse, None for none.
@@ -158,6 +177,38 @@ CASES = [
     (refusal_of, ("house", LINE, None), ("word", "XI", bad_words(2)), ("other", "II", bad_words(2))),
     (lets_refusal, ("house", LINE, None), ("word", "XI", bad_words(2)), ("other", "II", bad_words(2)),
      ("thing", ("still", 0), None)),
+    (coming_paper, ("house", LINE, None), ("word", "XI", bad_words(2)), ("other", "II", bad_words(2))),
+    (lets_coming, ("house", LINE, None), ("word", "XI", bad_words(2)), ("other", "II", bad_words(2)),
+     ("thing", ("still", 0), None)),
+    (is_made, ("house", LINE, None), ("word", "XX", bad_words(2))),
+    (maker_of, ("house", LINE, None), ("word", "XX", bad_words(2))),
+    (unmade_paper, ("house", LINE, None), ("word", "XX", bad_words(2) + ["XI", "YY"])),
+    (lets_unmade, ("house", LINE, None), ("word", "II", bad_words(2)), ("thing", (("still", 0),), None)),
+    (walked, ("house", LINE, None), ("word", "XX", bad_words(2))),
+    (first_of, ("house", LINE, None), ("word", "XX", bad_words(2))),
+    (made_walked, ("house", HOUSE, None), ("piece", 1, bad_numbers(2))),
+    (classes_among, ("house", LINE, None), ("words", ("XI", "II"), bad_tuples_of_words(2))),
+    (share_at, ("house", HOUSE, None), ("pieces", (0, 1), bad_lots(2))),
+    (Source, ("house", LINE, BAD_HOUSES), ("word", "XX", bad_words(2))),
+    (fewest_turns, ("house", LINE, None), ("word", "XI", bad_words(2)), ("other", "IX", bad_words(2))),
+    (turn_words, ("house", LINE, None), ("word", "XI", bad_words(2)), ("other", "IX", bad_words(2))),
+    (lets_turns, ("house", LINE, None), ("word", "XI", bad_words(2)), ("thing", (), None)),
+    (farthest_turns, ("house", LINE, None), ("word", "XI", bad_words(2))),
+    (ladder_of, ("house", LINE, None), ("word", "YY", bad_words(2) + ["II", "XX", "YI"])),
+    (used_rows, ("house", LINE, None), ("ladder", ("XI", "ZZ", "YZ"), BAD_LADDERS), ("row", 2, bad_numbers(3))),
+    (trimmed, ("house", LINE, None), ("ladder", ("XI", "ZZ", "YZ"), BAD_LADDERS)),
+    (ladders_joined, ("house", LINE, None), ("ladder", ("XI",), BAD_LADDERS), ("other", ("IX",), BAD_LADDERS)),
+    (turn_paper, ("house", LINE, None), ("word", "XI", bad_words(2)), ("other", "IX", bad_words(2))),
+    (lets_turn_paper, ("house", LINE, None), ("word", "XI", bad_words(2)), ("other", "XI", bad_words(2)),
+     ("thing", ("turns", (), ()), None)),
+    (told_row, ("house", LINE, None), ("word", "XI", bad_words(2)), ("other", "IX", bad_words(2))),
+    (lets_told_row, ("house", LINE, None), ("word", "XI", bad_words(2)), ("other", "XI", bad_words(2)), ("thing", (), None)),
+    (told_spread, ("house", LINE, None), ("word", "XI", bad_words(2))),
+    (made_spread, ("house", LINE, None), ("word", "XI", bad_words(2))),
+    (Source(LINE, "XI").comes, ("other", "IX", bad_words(2))),
+    (Source(LINE, "XI").refusal, ("other", "IX", bad_words(2))),
+    (Source(LINE, "XI").turned, ("told", 2, bad_numbers(3))),
+    (Source(LINE, "XI").same_class, ("other", Source(LINE, "II"), [None, "XI", (LINE, "XI"), Source(BOTH, "XI"), True])),
     # Where pairs follow, the piece is to be a lone or paired one.
 ] + [
     (function, ("house", (4, ("XIII", "ZIII", "XXII", "IZII", "IXXI", "IZZI", "IIIX")), None),

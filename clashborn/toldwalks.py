@@ -1,0 +1,53 @@
+"""Words gone through by turns by told words, level by level."""
+
+from clashborn.bits import lot_of
+
+
+class ToldWalk:
+    """What comes of the word of a code by turns by told words of a mask.
+
+    At k in levels are the codes that k turns lead to, and not fewer; came tells for each code the code before it and
+    the told word that turned that one, or None for the first code.
+    """
+
+    def __init__(self, frame, code, mask):
+        self.frame = frame
+        self.mask = mask
+        self.crossings = {code: frame.crossing(code) & mask}
+        self.came = {code: None}
+        self.levels = [[code]]
+
+    def grow(self):
+        """Add the next level, possibly empty; True if it is not."""
+        fresh = []
+        for code in self.levels[-1]:
+            near = lot_of(self.crossings[code])
+            for told in near:
+                there = code ^ self.frame.codes[told]
+                if there not in self.came:
+                    self.came[there] = (code, told)
+                    self.crossings[there] = self.crossings[code] ^ (self.frame.ties[told] & self.mask)
+                    fresh.append(there)
+        self.levels.append(fresh)
+        return fresh != []
+
+    def grow_whole(self):
+        """Add all levels; no level is empty then."""
+        while self.grow():
+            pass
+        self.levels.pop()
+
+    def row_to(self, code):
+        """The list of told numbers that lead from the first code to this one."""
+        row = []
+        while self.came[code] is not None:
+            code, told = self.came[code]
+            row.append(told)
+        return row[::-1]
+
+
+def whole_walk(frame, code):
+    """The walk, with all levels, from the word of this code by all told words."""
+    walk = ToldWalk(frame, code, (1 << len(frame.codes)) - 1)
+    walk.grow_whole()
+    return walk
