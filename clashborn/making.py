@@ -62,6 +62,15 @@ def check_unmade(frame, word, thing):
             raise InvalidPaper("refusal", piece)
 
 
+def is_unmade_paper(frame, word, thing):
+    """True if thing is a tuple as unmade_paper, otherwise False."""
+    try:
+        check_unmade(frame, word, thing)
+    except InvalidPaper:
+        return False
+    return True
+
+
 def lets_unmade(house, word, thing):
     """How many elements thing, a tuple as unmade_paper, has."""
     need_word(house[0], word)

@@ -47,6 +47,10 @@ class Form:
         """True if the piece has a pairing with at least six points, so that words can have coins on it for good."""
         return self.points >= 6
 
+    def basis_row(self, mask):
+        """The mask of the places in the basis whose told words are in the mask."""
+        return mask_of([k for k, told in enumerate(self.firsts) if (mask >> told) & 1])
+
     def crossing(self, code):
         """The mask of the piece's told words that clash with the word of this code."""
         return self.frame.crossing(code) & self.mask

@@ -27,22 +27,17 @@ def fitted_sum(form, rows, wishes):
     return None
 
 
-def basis_row(form, mask):
-    """The mask of the places in the basis of the piece whose told words are in the mask."""
-    return mask_of([k for k, told in enumerate(form.firsts) if (mask >> told) & 1])
-
-
 def two_turns(form, crossing, code):
     """The codes of two words made of a small piece that turn a word by this code, which is apart from the word.
 
     Crossing is the mask of the piece's told words with which the word clashes.
     """
     apart = form.crossing(code)
-    rows = [basis_row(form, crossing), basis_row(form, apart)]
+    rows = [form.basis_row(crossing), form.basis_row(apart)]
     # Both words have to clash with a told word, the first one with one, the second one with other.
     for one in form.lot:
         for other in form.lot:
-            more = [basis_row(form, form.frame.ties[one]), basis_row(form, form.frame.ties[other])]
+            more = [form.basis_row(form.frame.ties[one]), form.basis_row(form.frame.ties[other])]
             first = fitted_sum(form, rows + more, [1, 0, 1, 1 ^ ((apart >> other) & 1)])
             if first is not None:
                 return [first, first ^ code]

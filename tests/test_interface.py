@@ -6,6 +6,7 @@ import inspect
 import unittest
 
 from clashborn.comingpapers import lets_coming
+from clashborn.crossed import lets_crossed
 from clashborn.errors import InvalidPaper
 from clashborn.housechecker import lets_house
 from clashborn.kindpapers import lets_kind
@@ -20,6 +21,7 @@ from clashborn.toldrows import lets_told_row
 from clashborn.turnchecker import lets_turns
 from clashborn.turnpapers import lets_turn_paper
 from clashborn.wishing import lets_wishes
+from clashborn.withinpapers import lets_within
 from tests import plain
 
 FILES = {
@@ -72,6 +74,19 @@ FILES = {
     "turnpapers": "turn_paper(house, word, other), lets_turn_paper(house, word, other, thing)",
     "toldrows": "told_row(house, word, other), lets_told_row(house, word, other, thing)",
     "spreads": "told_spread(house, word), made_spread(house, word)",
+    "crossed": "crossed_basis(places, words), lets_crossed(places, words, thing)",
+    "balances": "balance_of(house, piece)",
+    "piececounts": "piece_count(house, piece), made_count(house), sums_count(house, piece)",
+    "comingcounts": "coming_count(house, word), added_count(house, word, piece), still_count(house)",
+    "staying": "stay_basis(house, word, piece)",
+    "classcounts": "class_count(house)",
+    "startcounts": "made_with(house, start), piece_with(house, piece, start)",
+    "madenumbers": "made_before(house, word), number_of(house, word), made_at(house, number), next_made(house, word), "
+                   "made_list(house)",
+    "lettertables": "letter_table(house, place), width_mean(house)",
+    "comparing": "is_within(house, other), makes_same(house, other), first_unmade(house, other)",
+    "withinpapers": "within_paper(house, other), lets_within(house, other, thing)",
+    "needless": "is_needless(house, told), stripped(house)",
 }
 CLASSES = {
     ("houseclasses", "House"): "__init__(self, places, *words), told(self), with_word(self, word), "
@@ -81,6 +96,10 @@ CLASSES = {
                                "made(self, word), __eq__(self, other)",
     ("sourceclasses", "Source"): "__init__(self, house, word), comes(self, other), refusal(self, other), meets(self), "
                                  "turned(self, told), held(self), same_class(self, other), __eq__(self, other)",
+    ("routeclasses", "Route"): "__init__(self, house, word, other), fewest(self), words(self), back(self), "
+                               "ends_in(self), __eq__(self, other)",
+    ("bookclasses", "Book"): "__init__(self, house), total(self), at(self, number), number(self, word), "
+                             "after(self, word), starting(self, start), __eq__(self, other)",
 }
 
 
@@ -116,7 +135,8 @@ class ValuesTest(unittest.TestCase):
             deep = (deep,) if level % 2 else [deep]
         wide = tuple(range(4999))
         words = [["XI", "ZZ"], ["IX", ["XI"]], [0, [1, 2]]]
-        firsts = ("lot", "apart", "word", "odd", "lone", "paired", "strict", "loose", "still", "coins", "signs", "turns")
+        firsts = ("lot", "apart", "word", "odd", "lone", "paired", "strict", "loose", "still", "coins", "signs", "turns",
+                  "within", "not")
         found = [deep, [deep], wide, list(wide), words, "X" * 4000, "IXYZ\n", 10 ** 59, -(10 ** 59), True, None, ()]
         for first in firsts:
             for rest in (deep, wide, words, 10 ** 59, True, None, "X" * 4000, ()):
@@ -137,6 +157,9 @@ class ValuesTest(unittest.TestCase):
             lambda thing: lets_turns(plain.LINE, "XI", thing),
             lambda thing: lets_turn_paper(plain.LINE, "XI", "IX", thing),
             lambda thing: lets_told_row(plain.LINE, "XI", "IX", thing),
+            lambda thing: lets_crossed(2, ("XI", "ZZ", "IX"), thing), lambda thing: lets_crossed(1, (), thing),
+            lambda thing: lets_within(plain.LINE, plain.FIVE, thing),
+            lambda thing: lets_within(plain.FIVE, plain.LINE, thing),
         )
         for thing in self.any_values():
             kept = copy.deepcopy(thing)

@@ -1,6 +1,6 @@
 """The rules of LANGUAGE.md that a program can see, over each file of the package.
 
-Where a rule allows more than the package needs, the narrower reading is tested: no annotations, no generators and
+Where a rule allows more than the package needs, the narrower reading is tested: no annotations, one generator and no
 generator expressions, no lambdas, no kept ranges, no try around anything but own functions.
 """
 
@@ -46,6 +46,7 @@ NODES = (
     ast.Tuple, ast.Slice, ast.JoinedStr, ast.FormattedValue, ast.And, ast.Or, ast.Not, ast.USub, ast.Add, ast.Sub,
     ast.Mult, ast.FloorDiv, ast.Mod, ast.Pow, ast.LShift, ast.RShift, ast.BitAnd, ast.BitOr, ast.BitXor, ast.Eq,
     ast.NotEq, ast.Lt, ast.LtE, ast.Gt, ast.GtE, ast.Is, ast.IsNot, ast.In, ast.NotIn, ast.Load, ast.Store, ast.AugAssign,
+    ast.Yield,
 )
 SPECIAL = {"__init__", "__eq__", "__len__", "__add__"}
 
@@ -157,6 +158,8 @@ class StatementsTest(unittest.TestCase):
             self.assertIsInstance(node, ast.ImportFrom, name)
             self.assertIn(node, TREES[name].body, name)
             self.assertEqual(node.level, 0)
+            if node.module == "math":
+                continue
             self.assertRegex(node.module, r"^clashborn\.[a-z]+$")
             target = node.module.partition(".")[2]
             uses[name].add(target)
@@ -166,6 +169,35 @@ class StatementsTest(unittest.TestCase):
                 self.assertIsNone(alias.asname)
                 self.assertIn(alias.name, defined, (name, alias.name))
         self.assertFalse(self.circles(uses))
+
+    def test_the_library_is_called_by_bare_names_alone(self):
+        for name, tree in TREES.items():
+            above = parents(tree)
+            taken = [alias for node in tree.body if isinstance(node, ast.ImportFrom) and node.module == "math"
+                     for alias in node.names]
+            for alias in taken:
+                self.assertIsNone(alias.asname)
+                self.assertIn(alias.name, ("gcd", "comb"))
+            names = {alias.name for alias in taken}
+            for node in ast.walk(tree):
+                if isinstance(node, ast.Name) and node.id in names:
+                    call = above[node]
+                    self.assertTrue(isinstance(call, ast.Call) and call.func is node and not call.keywords, name)
+
+    def test_generators_yield_in_plain_statements(self):
+        found = []
+        for name, tree in TREES.items():
+            above = parents(tree)
+            for node in ast.walk(tree):
+                if isinstance(node, ast.Yield):
+                    self.assertIsInstance(above[node], ast.Expr)
+                    self.assertIsInstance(above[above[node]], ast.For)
+                    found.append(name)
+        # Each name of a generator is its own; nothing in the package calls one.
+        self.assertEqual(found, ["madenumbers"])
+        for _, node in nodes(ast.Name, ast.Attribute):
+            self.assertNotIn("made_list", (getattr(node, "id", ""), getattr(node, "attr", "")))
+        self.assertEqual([node.name for _, node in functions()].count("made_list"), 1)
 
     def test_imports_are_used_and_stand_at_the_top(self):
         for name, tree in TREES.items():

@@ -3,11 +3,16 @@
 import itertools
 import unittest
 
+from clashborn.balances import balance_of
+from clashborn.bookclasses import Book
 from clashborn.classings import classes_among, first_of
 from clashborn.climbing import ladder_of
 from clashborn.coinwork import coins_after, coins_of
+from clashborn.comingcounts import added_count, coming_count
 from clashborn.comingpapers import coming_paper, lets_coming
 from clashborn.comings import comes_of, lot_from
+from clashborn.comparing import first_unmade, is_within, makes_same
+from clashborn.crossed import crossed_basis, lets_crossed
 from clashborn.errors import NotUsable
 from clashborn.farthest import farthest_turns
 from clashborn.fewest import fewest_turns
@@ -17,22 +22,29 @@ from clashborn.housechanges import (
 from clashborn.kindpapers import kind_paper, lets_kind
 from clashborn.laddertools import ladders_joined, trimmed, used_rows
 from clashborn.letters import added, clashes, sum_of
+from clashborn.lettertables import letter_table
 from clashborn.lettings import is_let, shift_of, side_of
 from clashborn.lots import is_odd, lot_sum, lots_added, part_of
+from clashborn.madenumbers import made_at, made_before, next_made, number_of
 from clashborn.making import is_made, lets_unmade, maker_of, unmade_paper
 from clashborn.meetings import is_still, meeting_of, meetings_of
+from clashborn.needless import is_needless
 from clashborn.pairings import ends_of, is_pairing, pairing_of
 from clashborn.pairtexts import read_pairs
 from clashborn.pairwork import lot_with_ends, point_words, ring_basis, whole_relation
 from clashborn.piececlasses import Piece
+from clashborn.piececounts import piece_count, sums_count
 from clashborn.piecekinds import kind_of, odd_relation
 from clashborn.refusals import lets_refusal, refusal_of
+from clashborn.routeclasses import Route
 from clashborn.sharings import share_at
 from clashborn.signs import sign_by, sign_word
 from clashborn.sixes import six_of
 from clashborn.sourceclasses import Source
 from clashborn.spans import apart_basis, are_independent, dimension_of, first_basis, rank_of, rest_basis
 from clashborn.spreads import made_spread, told_spread
+from clashborn.startcounts import made_with, piece_with
+from clashborn.staying import stay_basis
 from clashborn.sumpapers import is_sum, lets_sum, sum_paper
 from clashborn.tiework import met_by, piece_at
 from clashborn.toldrows import lets_told_row, told_row
@@ -42,9 +54,10 @@ from clashborn.turnpapers import lets_turn_paper, turn_paper
 from clashborn.turnwords import turn_words
 from clashborn.walking import made_walked, walked
 from clashborn.wishing import lets_wishes, wish_paper, word_by
+from clashborn.withinpapers import lets_within, within_paper
 from clashborn.wordchanges import beside, moved, recast
 from clashborn.wordreadings import read_house, read_short
-from tests.plain import BOTH, DUO, FIVE, LINE, MORE, SIX
+from tests.plain import BOTH, DUO, FIVE, LINE, MORE, SIX, TRIO
 
 PAIRS = ((0, 1), (1, 2), (2, 3))
 FIVE_PAIRS = ((0, 1), (1, 2), (2, 3), (3, 4), (4, 5))
@@ -101,6 +114,8 @@ BAD_PAIRINGS = [
 BAD_LADDERS = [
     None, True, 0, "", "XI", (), ["XI"], ("II",), ("YZ",), ("XI", "IX", "XX"), ("XI", None), ("X",), (("XI",),),
 ]
+
+BAD_STARTS = [None, True, 0, (), ("X",), ["X"], "x", "XA", " ", "XXX", "III", "-", "X I"]
 
 # Each case: the function, then for each parameter its name, a good value, and the values to refuse, None for none.
 CASES = [
@@ -209,6 +224,33 @@ CASES = [
     (Source(LINE, "XI").refusal, ("other", "IX", bad_words(2))),
     (Source(LINE, "XI").turned, ("told", 2, bad_numbers(3))),
     (Source(LINE, "XI").same_class, ("other", Source(LINE, "II"), [None, "XI", (LINE, "XI"), Source(BOTH, "XI"), True])),
+    (Route, ("house", LINE, BAD_HOUSES), ("word", "XI", bad_words(2)), ("other", "IX", bad_words(2))),
+    (crossed_basis, ("places", 2, None), ("words", ("XI", "II"), bad_tuples_of_words(2))),
+    (lets_crossed, ("places", 2, None), ("words", ("II", "II"), bad_tuples_of_words(2)), ("thing", ((), ()), None)),
+    (balance_of, ("house", HOUSE, None), ("piece", 1, bad_numbers(2))),
+    (piece_count, ("house", HOUSE, None), ("piece", 1, bad_numbers(2))),
+    (sums_count, ("house", HOUSE, None), ("piece", 1, bad_numbers(2))),
+    (coming_count, ("house", LINE, None), ("word", "XX", bad_words(2))),
+    (added_count, ("house", HOUSE, None), ("word", "XYZ", bad_words(3)), ("piece", 1, bad_numbers(2))),
+    (stay_basis, ("house", HOUSE, None), ("word", "XYZ", bad_words(3)), ("piece", 1, bad_numbers(2))),
+    (made_with, ("house", LINE, None), ("start", "X", BAD_STARTS)),
+    (piece_with, ("house", BOTH, None), ("piece", 1, bad_numbers(2)), ("start", "", BAD_STARTS)),
+    (made_before, ("house", LINE, None), ("word", "XX", bad_words(2))),
+    (number_of, ("house", LINE, None), ("word", "YY", bad_words(2) + ["XX", "II", "YI"])),
+    (made_at, ("house", LINE, None), ("number", 5, bad_numbers(6))),
+    (next_made, ("house", LINE, None), ("word", "XX", bad_words(2))),
+    (letter_table, ("house", LINE, None), ("place", 1, bad_numbers(2))),
+    (Book, ("house", LINE, BAD_HOUSES)),
+    (Book(LINE).at, ("number", 5, bad_numbers(6))),
+    (Book(LINE).number, ("word", "YY", bad_words(2) + ["XX"])),
+    (Book(LINE).after, ("word", "XX", bad_words(2))),
+    (Book(LINE).starting, ("start", "ZZ", BAD_STARTS)),
+    (is_within, ("house", LINE, None), ("other", FIVE, BAD_HOUSES + [TRIO, (3, ())])),
+    (makes_same, ("house", LINE, None), ("other", FIVE, BAD_HOUSES + [TRIO, (3, ())])),
+    (first_unmade, ("house", LINE, None), ("other", FIVE, BAD_HOUSES + [TRIO, (3, ())])),
+    (within_paper, ("house", LINE, None), ("other", FIVE, BAD_HOUSES + [TRIO, (3, ())])),
+    (lets_within, ("house", (2, ()), None), ("other", FIVE, BAD_HOUSES + [TRIO, (3, ())]), ("thing", ("within", ()), None)),
+    (is_needless, ("house", LINE, None), ("told", 2, bad_numbers(3))),
     # Where pairs follow, the piece is to be a lone or paired one.
 ] + [
     (function, ("house", (4, ("XIII", "ZIII", "XXII", "IZII", "IXXI", "IZZI", "IIIX")), None),
