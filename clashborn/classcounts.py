@@ -7,36 +7,34 @@ from clashborn.sharings import first_sharing
 
 
 def coin_classes(form):
-    """Twice how many classes there are of words with coins on a large piece, for each word that meets it nowhere.
+    """Twice how many classes there are of words that have coins, for each word that does not meet the paired piece.
 
-    Rings multiply the words of a class, but not the classes.
+    Coins on some points are those on all the others as well, so each number of coins, from one to all points but one,
+    stands for half a class. Rings multiply the words of a class, but not the classes.
     """
-    half = form.points // 2
     if form.whole is None:
-        # With coins on just half of the points, the words come in pairs of one class.
         return form.points - 1
-    # A whole relation lets coins be on an even number of points alone.
-    return 2 * (half // 2) if form.points % 4 == 0 else 2 * ((half - 1) // 2)
+    # A whole relation lets coins be on an even number of points alone, and parts those on just half of them.
+    return 2 * (form.points // 4)
 
 
-def large_quotient(form):
-    """A pair (top, power): the classes by a large piece are top / 2 ** power for each word that meets it nowhere."""
+def paired_quotient(form):
+    """As quotient_of, for a paired piece: words that meet it nowhere, with coins, and without coins.
+
+    Up to five points, signs let what would be let if coins were counted.
+    """
     scale = 2 << len(form.rings)
-    swept = scale - 2 if form.odd is not None else 2 * scale - 4
-    return (scale + coin_classes(form) + swept, len(form.rings) + 1)
+    ringed = scale - 2 if form.odd is not None else 2 * scale - 4
+    return (scale + coin_classes(form) + ringed, len(form.rings) + 1)
 
 
 def quotient_of(form):
     """A pair (top, power): the classes by this piece are top / 2 ** power for each word that meets it nowhere."""
+    if form.kind == "paired":
+        return paired_quotient(form)
     if form.kind == "lone":
         return (3, 1)
-    if form.kind == "loose":
-        return (2, 0)
-    if form.kind == "strict" or form.points == 5:
-        return (3, 0)
-    if form.is_large():
-        return large_quotient(form)
-    return (3 * (1 << len(form.rest)) - 1, len(form.rest))
+    return (3, 0) if form.kind == "strict" else (2, 0)
 
 
 def class_count(house):

@@ -14,14 +14,13 @@ from clashborn.usable import need_piece, need_word
 
 def like_sum(visit, form):
     """The code of a sum of the piece that clashes with the same told words of it as the word, which one does."""
-    crossing = visit.clash_mask & form.mask
     rows = [form.basis_row(visit.frame.ties[told]) for told in form.lot]
-    found, _ = crossing_all(rows, [(crossing >> told) & 1 for told in form.lot])
+    found, _ = crossing_all(rows, [(visit.clash_mask >> told) & 1 for told in form.lot])
     return mask_sum(form.basis, found)
 
 
 def swept_added(visit, form):
-    """How many words a piece that is swept by the word adds."""
+    """How many words a lone piece, or one that is swept by the word, adds."""
     tilt = swapped(visit.frame.places, visit.word_code)
     # If the word clashes with no word of the rest, some sums lead to words that do not meet the piece.
     is_left = all([parity(code & tilt) == 0 for code in form.rest])
@@ -30,7 +29,8 @@ def swept_added(visit, form):
     zeros = (power_of_two(form.basis) + sign_balance(form, form.basis, 0, tilt)) // 2
     if not is_left:
         return zeros
-    return zeros - (power_of_two(form.rest) + sign_balance(form, form.rest, like_sum(visit, form), tilt)) // 2
+    # The like sum and its sums with the rest are those, and the word is apart from all of them.
+    return zeros - (power_of_two(form.rest) + sign_balance(form, form.rest, like_sum(visit, form), 0)) // 2
 
 
 def coined_added(form, coins):
@@ -47,8 +47,6 @@ def added_at(visit, form):
     meeting, _, coins = visit.manner(form.number)
     if meeting == "unmet":
         return 1
-    if meeting == "lone":
-        return 2
     return coined_added(form, coins) if meeting == "coined" else swept_added(visit, form)
 
 

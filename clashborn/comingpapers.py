@@ -7,7 +7,7 @@ from clashborn.frames import Frame
 from clashborn.kinds import starts_with
 from clashborn.lettings import side_at
 from clashborn.meetings import Visit
-from clashborn.refusals import check_joint, check_refusal, has_refusal_shape
+from clashborn.refusals import check_joint, check_refusal
 from clashborn.usable import need_other, need_word
 
 
@@ -39,8 +39,6 @@ def lets_coming(house, word, other, thing):
     need_other(house[0], other)
     frame = Frame(house)
     if not starts_with("lot", thing) or len(thing) != 2:
-        if not has_refusal_shape(thing):
-            raise InvalidPaper("shape", -1)
         check_refusal(frame, word, other, thing)
         return False
     visit = Visit(frame, word)

@@ -23,7 +23,7 @@ def stay_codes(visit, form):
         # Beside rings the rest has at most the words of lots with all points as ends, which change the coins
         # to the points without one.
         return form.rest if 2 * len(coins) == form.points else form.rings
-    if meeting == "lone" or form.odd is not None:
+    if form.odd is not None:
         return form.rest
     tilt = swapped(visit.frame.places, visit.word_code)
     return kernel_by(form.rest, [form.sign(code) ^ parity(code & tilt) for code in form.rest])

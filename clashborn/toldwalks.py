@@ -4,7 +4,7 @@ from clashborn.bits import lot_of
 
 
 class ToldWalk:
-    """What comes of the word of a code by turns by told words of a mask.
+    """What comes of the word of a code by turns by told words of a mask, which has whole pieces.
 
     At k in levels are the codes that k turns lead to, and not fewer; came tells for each code the code before it and
     the told word that turned that one, or None for the first code.
@@ -12,7 +12,6 @@ class ToldWalk:
 
     def __init__(self, frame, code, mask):
         self.frame = frame
-        self.mask = mask
         self.crossings = {code: frame.crossing(code) & mask}
         self.came = {code: None}
         self.levels = [[code]]
@@ -26,7 +25,7 @@ class ToldWalk:
                 there = code ^ self.frame.codes[told]
                 if there not in self.came:
                     self.came[there] = (code, told)
-                    self.crossings[there] = self.crossings[code] ^ (self.frame.ties[told] & self.mask)
+                    self.crossings[there] = self.crossings[code] ^ self.frame.ties[told]
                     fresh.append(there)
         self.levels.append(fresh)
         return fresh != []

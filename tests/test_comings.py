@@ -71,6 +71,15 @@ class ComingsTest(unittest.TestCase):
         self.assertEqual(lot_from(word="II", other="II", house=LINE), ())
         self.assertIsNone(lot_from(LINE, "II", "XX"))
 
+    def test_each_met_piece_stays_met(self):
+        # By an even lot with the sum IIZI, other meets the second piece still, but not the first one.
+        house = plain.beside(SIX, (1, ("X",)))
+        self.assertIs(comes_of(house, "IIZZ", "IIIZ"), False)
+        self.assertEqual(refusal_of(house, "IIZZ", "IIIZ"), ("still", 0))
+        turned = plain.beside((1, ("X",)), SIX)
+        self.assertEqual(refusal_of(turned, "ZIIZ", "ZIII"), ("still", 1))
+        self.assertEqual(refusal_of(plain.beside(SIX, SIX), "IIZIIZ", "IIIIII"), ("still", 0))
+
     def test_forty_words_on_sixty_places(self):
         chance = plain.chance_of(362)
         made = [plain.random_house(chance, 60, 40), plain.paired_house(chance, 41, 40), plain.ringed_house(chance, 30, 38)]

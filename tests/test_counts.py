@@ -27,6 +27,7 @@ def more_houses(seed):
     # Strict pieces with a rest of words with both signs.
     found += [(4, tuple(word + chance.choice("IX") for word in SIX[1])) for _ in range(3)]
     found.append((5, tuple(word + "I" for word in LONG[1]) + ("XIIIX",)))
+    found.append((5, tuple(word + "II" for word in SIX[1]) + ("XIIXI", "ZIIXX")))
     return found
 
 

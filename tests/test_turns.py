@@ -5,6 +5,7 @@ import unittest
 from clashborn.errors import InvalidPaper, Refused, Shared
 from clashborn.farthest import farthest_turns
 from clashborn.fewest import fewest_turns
+from clashborn.meetings import meeting_of
 from clashborn.refusals import lets_refusal
 from clashborn.sharings import share_at
 from clashborn.tiework import met_by
@@ -149,6 +150,30 @@ class TurnWordsTest(unittest.TestCase):
                     self.hold(house, word, other, turn_words(house, word, other), made)
                 self.assertEqual(turn_words(house, word, word), ())
 
+    def test_strict_and_loose_pieces_with_a_rest(self):
+        chance = plain.chance_of(442)
+        found = [LONG, (4, tuple(word + "I" for word in MORE[1]) + ("XIIX",))]
+        found += [(4, tuple(word + chance.choice("IX") for word in SIX[1])) for _ in range(3)]
+        found += [(5, tuple(word + "II" for word in SIX[1]) + ("XIIXI", "ZIIXX")), (4, LONG[1][1:] + ("XXXX", "YIZX"))]
+        seen = set()
+        for house in found:
+            made = plain.made_words(house)
+            for word in chance.sample(plain.all_words(house[0]), 12):
+                for other, turns in plain.steps(house, word, made).items():
+                    if turns > 1:
+                        self.hold(house, word, other, turn_words(house, word, other), made)
+                        seen.add(turns)
+        self.assertEqual(seen, {2, 3})
+
+    def test_pieces_behind_others(self):
+        # Three turns at the second piece, and a ring at it, behind a piece whose words the word meets, too.
+        house = plain.beside((1, ("X",)), LONG)
+        self.assertEqual(fewest_turns(house, "ZXIIX", "YXIIY"), 4)
+        self.hold(house, "ZXIIX", "YXIIY", turn_words(house, "ZXIIX", "YXIIY"))
+        house = plain.beside((1, ("X",)), (4, ("XIII", "ZZII", "IXII", "IZZI", "IIXI", "XIIX")))
+        self.assertEqual(fewest_turns(house, "ZZIII", "YZIIX"), 3)
+        self.hold(house, "ZZIII", "YZIIX", turn_words(house, "ZZIII", "YZIIX"))
+
     def test_large_houses(self):
         chance = plain.chance_of(441)
         for house in large_houses(441):
@@ -239,6 +264,29 @@ class FarthestTest(unittest.TestCase):
                 for _ in range(6):
                     word = plain.random_word(chance, house[0])
                     self.assertEqual(farthest_turns(house, word), max(plain.steps(house, word, made).values()))
+
+    def test_one_coin_and_a_ring(self):
+        house = (4, ("XIII", "ZZII", "IXII", "IZZI", "IIXI", "XIIX"))
+        self.assertEqual(farthest_turns(house, "ZIII"), 2)
+        self.assertEqual(fewest_turns(house, "ZIII", "ZIIX"), 2)
+        self.assertEqual(farthest_turns((4, house[1][:5]), "ZIII"), 1)
+        self.assertEqual(max(plain.steps(house, "ZIII", plain.made_words(house)).values()), 2)
+
+    def test_whole_relations_and_rings(self):
+        # A word with Z at the last place clashes with the ring there, so that it has no coins.
+        chance = plain.chance_of(462)
+        for half, swept in ((2, 3), (3, 2), (4, 5), (5, 3)):
+            words = plain.whole_house(chance, half)[1]
+            twin = plain.plus(words[0], words[1]) if plain.clash(words[0], words[1]) else words[0]
+            house = (half + 1, tuple(word + "I" for word in words) + (twin + "X",))
+            made = plain.made_words(house)
+            found = {}
+            for head in plain.all_words(half)[::4 ** half // 16]:
+                for tail in "IZ":
+                    found.setdefault(meeting_of(house, head + tail, 0), set()).add(farthest_turns(house, head + tail))
+            self.assertEqual(found["swept"], {swept})
+            for word in ("X" * half + "Z", "XZ" + "I" * (half - 2) + "I"):
+                self.assertEqual(farthest_turns(house, word), max(plain.steps(house, word, made).values()))
 
     def test_edges(self):
         self.assertEqual(farthest_turns((2, ()), "XZ"), 0)
