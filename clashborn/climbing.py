@@ -7,24 +7,33 @@ from clashborn.toldwalks import ToldWalk
 from clashborn.usable import need, need_word
 
 
+def met_code(one, other):
+    """A code that both walks reach; the walk with the smaller last level grows, so that both stay small."""
+    met = [code for code in one.levels[-1] if code in other.came]
+    while met == []:
+        near, far = (one, other) if len(one.levels[-1]) < len(other.levels[-1]) else (other, one)
+        near.grow()
+        met = [code for code in near.levels[-1] if code in far.came]
+    return met[0]
+
+
 def way_up(frame, piece, code):
-    """The list of told numbers of the piece that lead from one of its told words, the first, to the made code."""
-    told_at = {frame.codes[told]: told for told in frame.pieces[piece]}
-    walk = ToldWalk(frame, code, frame.piece_masks[piece])
-    found = [there for there in walk.levels[-1] if there in told_at]
-    while found == []:
-        walk.grow()
-        found = [there for there in walk.levels[-1] if there in told_at]
+    """The list of told numbers, as short as can be, that leads from a told word of the piece to the made code."""
+    told_walk = ToldWalk(frame, [frame.codes[told] for told in frame.pieces[piece]], frame.piece_masks[piece])
+    made_walk = ToldWalk(frame, [code], frame.piece_masks[piece])
+    met = met_code(told_walk, made_walk)
     # Turns lead back the same way.
-    return [told_at[found[0]]] + walk.row_to(found[0])[::-1]
+    return told_walk.row_to(met) + made_walk.row_to(met)[::-1]
 
 
 def ladder_rows(frame, piece, code):
     """The codes of a ladder whose last row is the code, made of the piece."""
     way = way_up(frame, piece, code)
-    here = frame.codes[way[0]]
+    here = code
+    for told in way:
+        here = here ^ frame.codes[told]
     rows = [here]
-    for told in way[1:]:
+    for told in way:
         if frame.codes[told] not in rows:
             rows.append(frame.codes[told])
         here = here ^ frame.codes[told]

@@ -28,7 +28,7 @@ def walk_masks(walk):
 
 def turns_of_piece(visit, form):
     """For each code that turns by words made of the piece add to the word, how many turns do so at least."""
-    walk = ToldWalk(visit.frame, visit.word_code, form.mask)
+    walk = ToldWalk(visit.frame, [visit.word_code], form.mask)
     walk.grow_whole()
     masks = walk_masks(walk)
     # Turns by told words lead along lots that are let.

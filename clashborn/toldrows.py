@@ -19,7 +19,7 @@ def told_row(house, word, other):
     if verdict[0] != "lot":
         raise Refused(verdict)
     goal = code_of(other)
-    walk = ToldWalk(frame, code_of(word), (1 << len(frame.codes)) - 1)
+    walk = ToldWalk(frame, [code_of(word)], (1 << len(frame.codes)) - 1)
     while goal not in walk.came:
         walk.grow()
     return tuple(walk.row_to(goal))

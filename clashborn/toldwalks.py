@@ -4,17 +4,17 @@ from clashborn.bits import lot_of
 
 
 class ToldWalk:
-    """What comes of the word of a code by turns by told words of a mask, which has whole pieces.
+    """What comes of the words of some codes by turns by told words of a mask, which has whole pieces.
 
     At k in levels are the codes that k turns lead to, and not fewer; came tells for each code the code before it and
-    the told word that turned that one, or None for the first code.
+    the told word that turned that one, or None for the codes at the start.
     """
 
-    def __init__(self, frame, code, mask):
+    def __init__(self, frame, codes, mask):
         self.frame = frame
-        self.crossings = {code: frame.crossing(code) & mask}
-        self.came = {code: None}
-        self.levels = [[code]]
+        self.crossings = {code: frame.crossing(code) & mask for code in codes}
+        self.came = {code: None for code in codes}
+        self.levels = [list(codes)]
 
     def grow(self):
         """Add the next level, possibly empty; True if it is not."""
@@ -37,7 +37,7 @@ class ToldWalk:
         self.levels.pop()
 
     def row_to(self, code):
-        """The list of told numbers that lead from the first code to this one."""
+        """The list of told numbers that lead from a code at the start to this one."""
         row = []
         while self.came[code] is not None:
             code, told = self.came[code]
@@ -47,6 +47,6 @@ class ToldWalk:
 
 def whole_walk(frame, code):
     """The walk, with all levels, from the word of this code by all told words."""
-    walk = ToldWalk(frame, code, (1 << len(frame.codes)) - 1)
+    walk = ToldWalk(frame, [code], (1 << len(frame.codes)) - 1)
     walk.grow_whole()
     return walk
