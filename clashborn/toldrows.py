@@ -6,7 +6,7 @@ from clashborn.errors import InvalidPaper, Refused
 from clashborn.frames import Frame
 from clashborn.kinds import is_below
 from clashborn.letters import plain_clash, plain_sum
-from clashborn.toldwalks import ToldWalk
+from clashborn.toldwalks import walk_from
 from clashborn.usable import need_other, need_word
 
 
@@ -19,7 +19,7 @@ def told_row(house, word, other):
     if verdict[0] != "lot":
         raise Refused(verdict)
     goal = code_of(other)
-    walk = ToldWalk(frame, [code_of(word)], (1 << len(frame.codes)) - 1)
+    walk = walk_from(frame, code_of(word))
     while goal not in walk.came:
         walk.grow()
     return tuple(walk.row_to(goal))

@@ -45,8 +45,13 @@ class ToldWalk:
         return row[::-1]
 
 
+def walk_from(frame, code):
+    """The walk from the word of this code by all told words."""
+    return ToldWalk(frame, [code], (1 << len(frame.codes)) - 1)
+
+
 def whole_walk(frame, code):
-    """The walk, with all levels, from the word of this code by all told words."""
-    walk = ToldWalk(frame, [code], (1 << len(frame.codes)) - 1)
+    """walk_from, with all levels."""
+    walk = walk_from(frame, code)
     walk.grow_whole()
     return walk
