@@ -44,7 +44,7 @@ def coined_added(form, coins):
 
 def added_at(visit, form):
     """How many words the piece adds to the word of the visit."""
-    meeting, _, coins = visit.manner(form.number)
+    meeting, _, coins = visit.manner(form.piece)
     if meeting == "unmet":
         return 1
     return coined_added(form, coins) if meeting == "coined" else swept_added(visit, form)

@@ -15,9 +15,9 @@ class Start:
         self.visit = Visit(frame, word)
         self.lot = lot_of(self.visit.met_mask)
         self.bound = [piece for piece in self.visit.met_pieces if self.visit.is_bound(piece)]
-        self.relations = frame.relations(self.visit.met_mask)
+        self.met_relations = frame.relations(self.visit.met_mask)
         self.shifts = [mask_of([k for k, piece in enumerate(self.bound) if shift_at(self.visit, relation, piece) == 1])
-                       for relation in self.relations]
+                       for relation in self.met_relations]
 
     def joint_mask(self, code):
         """The mask of a lot of told words of met pieces with the sum of this code, or None."""
@@ -37,7 +37,7 @@ class Start:
         sides = mask_of([k for k, piece in enumerate(self.bound) if side_at(self.visit, mask, piece) == 1])
         chosen = lot_with_sum(self.shifts, sides)
         if chosen is not None:
-            return ("lot", lot_of(mask ^ mask_sum(self.relations, chosen)))
+            return ("lot", lot_of(mask ^ mask_sum(self.met_relations, chosen)))
         # No relations shift all sides to 0, so some of the pieces hold against all of them.
         holding, _ = crossing_all(self.shifts + [sides], [0] * len(self.shifts) + [1])
         return ("signs", lot_of(mask), tuple([self.bound[k] for k in lot_of(holding)]))

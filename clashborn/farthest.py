@@ -12,7 +12,7 @@ from clashborn.usable import need_word
 
 def large_farthest(visit, form):
     """The most turns at a piece that has a pairing with at least six points."""
-    _, _, coins = visit.manner(form.number)
+    _, _, coins = visit.manner(form.piece)
     if coins is None:
         # A whole relation with an even number of jumps lets each jump be counted from the other points, too.
         return form.points // 4 if form.whole is not None and form.points % 4 == 0 else form.points // 2

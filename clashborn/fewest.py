@@ -26,8 +26,8 @@ def way_to(frame, word, other):
 def least_let(visit, form, part):
     """The mask, with the fewest ends, of a let lot within a large piece that has the sum of the let part."""
     masks = [part] if form.whole is None else [part, part ^ form.whole]
-    ranked = [(len(ends_within(visit.frame, form.number, form.pairs, mask)), mask)
-              for mask in masks if side_at(visit, mask, form.number) == 0]
+    ranked = [(len(ends_within(visit.frame, form.piece, form.pairs, mask)), mask)
+              for mask in masks if side_at(visit, mask, form.piece) == 0]
     return min(ranked)[1]
 
 
@@ -39,7 +39,7 @@ def turns_at(visit, form, part):
     if len(form.lot) == 1:
         return 1
     if form.is_large():
-        ends = ends_within(visit.frame, form.number, form.pairs, least_let(visit, form, part))
+        ends = ends_within(visit.frame, form.piece, form.pairs, least_let(visit, form, part))
         return 2 if ends == () else len(ends) // 2
     if parity(part & visit.clash_mask) == 0:
         return 2

@@ -25,7 +25,7 @@ class Form:
 
     def __init__(self, frame, piece):
         self.frame = frame
-        self.number = piece
+        self.piece = piece
         self.lot = frame.pieces[piece]
         self.mask = frame.piece_masks[piece]
         self.codes = [frame.codes[told] for told in self.lot]

@@ -16,7 +16,7 @@ def kernel_by(codes, values):
 
 def stay_codes(visit, form):
     """A basis, as codes, of the staying words at the piece."""
-    meeting, _, coins = visit.manner(form.number)
+    meeting, _, coins = visit.manner(form.piece)
     if meeting == "unmet":
         return []
     if meeting == "coined":

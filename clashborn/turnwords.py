@@ -59,7 +59,7 @@ def small_turns(visit, form, part):
 
 def jumps_at(visit, form, ends):
     """The pairs of points, as many as can be parted from the ends, that turns lead along."""
-    coins = visit.manner(form.number)[2]
+    coins = visit.manner(form.piece)[2]
     if coins is None:
         return list(zip(ends[::2], ends[1::2]))
     return list(zip([point for point in ends if point in coins], [point for point in ends if point not in coins]))
@@ -68,7 +68,7 @@ def jumps_at(visit, form, ends):
 def large_turns(visit, form, part):
     """The codes of the turns at a piece that has a pairing with at least six points."""
     code = visit.frame.sum_code(part)
-    ends = ends_within(visit.frame, form.number, form.pairs, least_let(visit, form, part))
+    ends = ends_within(visit.frame, form.piece, form.pairs, least_let(visit, form, part))
     if ends == ():
         # A ring is apart from the piece, so any turn and its sum with the ring make both.
         by = visit.frame.codes[lot_of(visit.clash_mask & form.mask)[0]]
