@@ -7,6 +7,15 @@ from clashborn.meetings import Visit
 from clashborn.usable import need_other, need_word
 
 
+def parting_word(frame, lot, code):
+    """A word that is apart from the told words of the lot and clashes with the word of this code, or None."""
+    swaps = [frame.swaps[told] for told in lot]
+    check, _ = crossing_all(swaps + [swapped(frame.places, code)], [0] * len(swaps) + [1])
+    if check is None:
+        return None
+    return word_of(frame.places, check)
+
+
 class Start:
     """A word of a house, made ready to tell of any other word whether it comes of it."""
 
@@ -25,12 +34,6 @@ class Start:
         if local is None:
             return None
         return mask_of([self.lot[k] for k in lot_of(local)])
-
-    def parting_word(self, code):
-        """A word that is apart from all told words of met pieces and clashes with the word of this code."""
-        swaps = [self.frame.swaps[told] for told in self.lot]
-        check, _ = crossing_all(swaps + [swapped(self.frame.places, code)], [0] * len(swaps) + [1])
-        return word_of(self.frame.places, check)
 
     def sides_verdict(self, mask):
         """As verdict, when the joint lot of this mask has a side in each bound piece."""
@@ -51,7 +54,7 @@ class Start:
         code = self.visit.word_code ^ other_code
         mask = self.joint_mask(code)
         if mask is None:
-            return ("apart", self.parting_word(code))
+            return ("apart", parting_word(self.frame, self.lot, code))
         for piece in self.visit.met_pieces:
             if side_at(self.visit, mask, piece) is None:
                 return ("coins", piece, self.visit.manner(piece)[1], lot_of(mask))

@@ -5,7 +5,7 @@ from clashborn.errors import Odd
 from clashborn.frames import Frame
 from clashborn.kinds import is_lot
 from clashborn.pairings import ends_within, need_pairs
-from clashborn.pointtrees import count_points, places_with_ends, ring_at, root_paths
+from clashborn.pointtrees import count_points, places_with_ends, ring_at, root_paths, tree_places
 from clashborn.usable import need
 
 
@@ -36,7 +36,7 @@ def ring_basis(house, piece, pairs):
     frame = Frame(house)
     need_pairs(frame, piece, pairs)
     paths = root_paths(pairs)
-    tree = {at: True for point in paths for at in paths[point]}
+    tree = tree_places(paths)
     rings = [ring_at(pairs, paths, at) for at in range(len(pairs)) if at not in tree]
     return tuple([told_lot(frame, piece, ring) for ring in rings])
 

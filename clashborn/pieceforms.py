@@ -13,11 +13,10 @@ def independent_codes(codes):
     return [codes[k] for k in span_of(codes)[1]]
 
 
-def ring_codes(pairs, codes):
-    """A basis of the sums of the rings of these pairs, the words of the pairs having these codes."""
+def ring_sums(pairs, codes):
+    """For each pair the sum of its ring with the tree, 0 for a pair of the tree itself; codes are of their words."""
     paths = root_paths(pairs)
-    # A pair of the tree itself gives a ring of nothing.
-    return independent_codes([mask_sum(codes, mask_of(ring_at(pairs, paths, at))) for at in range(len(pairs))])
+    return [mask_sum(codes, mask_of(ring_at(pairs, paths, at))) for at in range(len(pairs))]
 
 
 class Form:
@@ -41,7 +40,7 @@ class Form:
         self.pairs = walk_of(frame, piece).pairing()
         self.points = 0 if self.pairs is None else count_points(self.pairs)
         self.whole = None if self.pairs is None else whole_mask(frame, piece, self.pairs)
-        self.rings = [] if self.pairs is None else ring_codes(self.pairs, self.codes)
+        self.rings = [] if self.pairs is None else independent_codes(ring_sums(self.pairs, self.codes))
 
     def is_large(self):
         """True if the piece has a pairing with at least six points, so that words can have coins on it for good."""

@@ -67,6 +67,11 @@ def places_with_ends(paths, ends):
     return places
 
 
+def tree_places(paths):
+    """A dict with the places of the pairs of the tree as its keys."""
+    return {at: True for point in paths for at in paths[point]}
+
+
 def ring_at(pairs, paths, at):
     """The ascending list of the places that make a ring of the pair at this place and the tree."""
     low, high = pairs[at]

@@ -86,12 +86,16 @@ def is_six(places, thing):
     return True
 
 
+def six_codes(frame, piece):
+    """The codes of a six made of a piece that is strict or loose."""
+    ladder = SixLadder(frame, walk_of(frame, piece))
+    return [ladder.rows[row] for row in ladder.six]
+
+
 def six_of(house, piece):
     """Any six of words made of the piece; Unlike if it is lone or paired."""
     frame = Frame(house)
     need_piece(frame, piece)
-    walk = walk_of(frame, piece)
-    if walk.breaker is None:
+    if walk_of(frame, piece).breaker is None:
         raise Unlike(kind_at(frame, piece))
-    ladder = SixLadder(frame, walk)
-    return tuple([word_of(frame.places, ladder.rows[row]) for row in ladder.six])
+    return tuple([word_of(frame.places, code) for code in six_codes(frame, piece)])

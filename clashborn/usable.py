@@ -25,6 +25,11 @@ def need_words(places, words):
     need(is_words(places, words), "words")
 
 
+def need_checks(places, checks):
+    """The parameter checks must be a tuple of words with so many letters."""
+    need(is_words(places, checks), "checks")
+
+
 def need_further(house, word):
     """The parameter word must be a further word of the house."""
     need_word(house[0], word)

@@ -176,16 +176,15 @@ def is_pairing(house, lot, thing):
     )
 
 
-def pairings(house, lot):
-    """All pairings of a small piece, by plain trial."""
-    found = []
+def numbered_pairings(house, lot):
+    """The pairings of a piece whose points are numbered as they come up, one by one, by plain trial."""
 
     def grow(pairs, points):
         if len(pairs) == len(lot):
             if is_pairing(house, lot, tuple(pairs)):
-                found.append(tuple(pairs))
+                yield tuple(pairs)
             return
-        for pair in itertools.combinations(range(2 * len(lot)), 2):
+        for pair in itertools.combinations(range(len(points) + 2), 2):
             if all(
                 clash(house[1][lot[len(pairs)]], house[1][lot[j]]) == (len(set(pair) & set(pairs[j])) == 1)
                 for j in range(len(pairs))
@@ -193,11 +192,19 @@ def pairings(house, lot):
                 # A new point is the least unused one, but for renumbering at the end nothing is lost.
                 used = set(points) | set(pair)
                 if max(used) < len(used):
-                    grow(pairs + [pair], used)
+                    yield from grow(pairs + [pair], used)
 
-    grow([], set())
+    yield from grow([], set())
+
+
+def has_pairing(house, lot):
+    return any(True for _ in numbered_pairings(house, lot))
+
+
+def pairings(house, lot):
+    """All pairings of a small piece, by plain trial."""
     return [
-        renamed for pairs in found
+        renamed for pairs in numbered_pairings(house, lot)
         for order in itertools.permutations(range(len({p for pair in pairs for p in pair})))
         for renamed in [tuple(tuple(sorted((order[a], order[b]))) for a, b in pairs)]
     ]
@@ -274,7 +281,8 @@ def ringed_house(chance, points, many):
     twin = low[:-2] + "IX"
     extra = "I" * (places - 2) + "IZ"
     fresh = [word for word in (twin, extra) if word not in marked]
-    return (places, tuple(marked[:1] + fresh[:1] + [word for word in marked[1:] if word not in fresh] + fresh[1:]))
+    told = marked[:1] + fresh[:1] + [word for word in marked[1:] if word not in fresh] + fresh[1:]
+    return (places, tuple(dict.fromkeys(told)))
 
 
 def parted_house(chance, points, side, tail):
@@ -321,7 +329,7 @@ def kind(house, lot):
     """The kind of a piece: by trial of pairings if it is small, and of relations."""
     if len(lot) == 1:
         return "lone"
-    if pairings(house, lot):
+    if has_pairing(house, lot):
         return "paired"
     return "loose" if any(odd(house, part) for part in relations(house, lot)) else "strict"
 
@@ -344,8 +352,7 @@ def pairings_once(house, lot):
     """One pairing of the piece by plain trial, or None; kept, as trial takes its time."""
     words = tuple(house[1][k] for k in lot)
     if words not in PAIRINGS:
-        found = pairings(house, lot)
-        PAIRINGS[words] = found[0] if found else None
+        PAIRINGS[words] = next(numbered_pairings(house, lot), None)
     return PAIRINGS[words]
 
 

@@ -8,14 +8,22 @@ import unittest
 from clashborn.comingpapers import lets_coming
 from clashborn.crossed import lets_crossed
 from clashborn.errors import InvalidPaper
+from clashborn.fixedlists import lets_fixed
+from clashborn.halls import is_hall
 from clashborn.housechecker import lets_house
 from clashborn.kindpapers import lets_kind
 from clashborn.kinds import is_house, is_lot, is_words
 from clashborn.ladderchecker import lets_ladder
+from clashborn.leasthouses import lets_least
+from clashborn.liveevents import is_event, is_log
 from clashborn.making import lets_unmade
 from clashborn.pairings import is_pairing
+from clashborn.planning import lets_plan
+from clashborn.presses import lets_play
 from clashborn.refusals import lets_refusal
 from clashborn.sixes import is_six
+from clashborn.streetcoins import lets_slides
+from clashborn.streets import is_street_web
 from clashborn.sumpapers import lets_sum
 from clashborn.toldrows import lets_told_row
 from clashborn.turnchecker import lets_turns
@@ -87,6 +95,40 @@ FILES = {
     "comparing": "is_within(house, other), makes_same(house, other), first_unmade(house, other)",
     "withinpapers": "within_paper(house, other), lets_within(house, other, thing)",
     "needless": "is_needless(house, told), stripped(house)",
+    "leasthouses": "fewest_told(house), least_house(house), lets_least(house, thing), all_house(places)",
+    "furthers": "kind_with(house, word), keeps_paired(house, word), tips_house(house, word), "
+                "one_pointed(house, piece, word)",
+    "joinings": "joined_pieces(house, word), pairing_with(house, word)",
+    "tips": "kept_count(house), tip_count(house), tip_word(house, piece), tip_word_count(house, piece)",
+    "stories": "story_of(house), pieces_story(house), first_tipped(house)",
+    "strikes": "strike_kinds(house), pillars_of(house)",
+    "readings": "read_by(word, checks), unseen_basis(places, words, checks)",
+    "steadies": "is_steady(house, word, check), steady_basis(house, word)",
+    "partchecks": "part_check(house, word, other)",
+    "confusions": "are_rivals(house, word, other), confused_by(house, word, other, checks), "
+                  "confused_pair(house, word, other, checks)",
+    "fixedlists": "fixed_count(house, word, other), fixed_checks(house, word, other), "
+                  "lets_fixed(house, word, other, thing)",
+    "calms": "are_calm(words), calm_count(house, piece), calm_basis(house, piece)",
+    "planning": "plan_of(house, word, other), lets_plan(house, word, other, thing)",
+    "planwalks": "place_by(plan, word), told_by(plan, word), plan_checks(plan, word)",
+    "beginnings": "steady_all(house, words), parted_words(house, words)",
+    "halls": "is_hall(thing), hall_of(lamps, *ties), parts_of(hall), house_of_hall(hall), "
+             "word_of_light(hall, rule, light), light_of_word(hall, word)",
+    "presses": "may_press(hall, rule, light, lamp), pressed(hall, rule, light, lamp), "
+               "lets_play(hall, rule, light, thing)",
+    "lightcomings": "light_comes(hall, rule, light, other), lit_lot(hall, light, other)",
+    "lightcounts": "light_count(hall, rule, light)",
+    "plays": "play_of(hall, rule, light, other), play_levels(hall, rule, light)",
+    "streets": "is_street_web(thing), street_web(points, *streets), point_word(points, point), "
+               "coins_word(points, coins), house_of_streets(web)",
+    "streetcoins": "coins_come(web, coins, other), fewest_jumps(web, coins, other), slid(web, coins, street), "
+                   "lets_slides(web, coins, thing), slides_of(web, coins, other)",
+    "liveevents": "is_event(thing), is_log(thing)",
+    "stepping": "reason_of(house, held, event), step_of(house, held, event)",
+    "replaying": "replayed(places, log), cut_log(log, many), held_walk(places, log)",
+    "eventtexts": "event_line(event), log_text(log), read_event(text), read_log(text)",
+    "desk": "desk_line(live, text)",
 }
 CLASSES = {
     ("houseclasses", "House"): "__init__(self, places, *words), told(self), with_word(self, word), "
@@ -100,6 +142,15 @@ CLASSES = {
                                "ends_in(self), __eq__(self, other)",
     ("bookclasses", "Book"): "__init__(self, house), total(self), at(self, number), number(self, word), "
                              "after(self, word), starting(self, start), __eq__(self, other)",
+    ("sideclasses", "Sides"): "__init__(self, house, other), within(self), same(self), apart_at(self), fewest(self), "
+                              "turned_about(self), __eq__(self, other)",
+    ("watchclasses", "Watch"): "__init__(self, house, word, other), least(self), checks(self), plan(self), "
+                               "judged(self, seen), __eq__(self, other)",
+    ("live", "LiveHouse"): "__init__(self, places), tell(self, word), strike(self, told), hold(self, word), "
+                           "turn(self, told), jump(self, word), drop(self), go(self, event), barred(self, event), "
+                           "do_all(self, events, keep=False), undo(self, steps=1), tried(self, events), log(self), "
+                           "path(self), tally(self), house_now(self), held_now(self), kinds(self), made(self, word), "
+                           "comes(self, word), fewest(self, word), many(self), __eq__(self, other)",
 }
 
 
@@ -136,7 +187,7 @@ class ValuesTest(unittest.TestCase):
         wide = tuple(range(4999))
         words = [["XI", "ZZ"], ["IX", ["XI"]], [0, [1, 2]]]
         firsts = ("lot", "apart", "word", "odd", "lone", "paired", "strict", "loose", "still", "coins", "signs", "turns",
-                  "within", "not")
+                  "within", "not", "tell", "hold", "drop", "strike", "turn")
         found = [deep, [deep], wide, list(wide), words, "X" * 4000, "IXYZ\n", 10 ** 59, -(10 ** 59), True, None, ()]
         for first in firsts:
             for rest in (deep, wide, words, 10 ** 59, True, None, "X" * 4000, ()):
@@ -160,6 +211,12 @@ class ValuesTest(unittest.TestCase):
             lambda thing: lets_crossed(2, ("XI", "ZZ", "IX"), thing), lambda thing: lets_crossed(1, (), thing),
             lambda thing: lets_within(plain.LINE, plain.FIVE, thing),
             lambda thing: lets_within(plain.FIVE, plain.LINE, thing),
+            lambda thing: lets_least(plain.LINE, thing), lambda thing: lets_least((5000, ()), thing),
+            lambda thing: lets_fixed(plain.LINE, "ZI", "IZ", thing), lambda thing: lets_plan(plain.LINE, "ZI", "IZ", thing),
+            lambda thing: lets_plan(plain.SIX, "XII", "IIZ", thing),
+            lambda thing: lets_play((3, ((0, 1), (1, 2))), "lit", (0,), thing),
+            lambda thing: lets_play((3, ((0, 1), (1, 2))), "odd", (0,), thing),
+            lambda thing: lets_slides((3, ((0, 1), (1, 2))), (0,), thing),
         )
         for thing in self.any_values():
             kept = copy.deepcopy(thing)
@@ -174,7 +231,8 @@ class ValuesTest(unittest.TestCase):
     def test_kinds_of_any_value(self):
         for thing in self.any_values():
             for found in (is_house(thing), is_lot(5, thing), is_words(2, thing), is_pairing(plain.LINE, 0, thing),
-                          is_pairing(plain.SIX, 0, thing), is_six(3, thing)):
+                          is_pairing(plain.SIX, 0, thing), is_six(3, thing), is_hall(thing), is_street_web(thing),
+                          is_event(thing), is_log(thing)):
                 self.assertIs(type(found), bool)
 
 

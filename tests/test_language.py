@@ -226,7 +226,9 @@ class StatementsTest(unittest.TestCase):
             self.assertEqual(node.decorator_list, [], name)
             self.assertIsNone(node.returns)
             self.assertEqual((node.args.posonlyargs, node.args.kwonlyargs, node.args.kwarg), ([], [], None))
-            self.assertEqual(node.args.defaults, [])
+            for default in node.args.defaults:
+                self.assertIsInstance(default, ast.Constant, (name, node.name))
+                self.assertIsInstance(default.value, (int, str), (name, node.name))
             for arg in node.args.args:
                 self.assertIsNone(arg.annotation)
             above = parents(TREES[name])[node]
@@ -261,11 +263,12 @@ class StatementsTest(unittest.TestCase):
             for handler in node.handlers:
                 self.assertIn(handler.type.id, own)
 
-    def test_is_stands_with_none_alone(self):
+    def test_is_stands_with_none_or_a_truth_value(self):
         for name, node in nodes(ast.Compare):
             for sign, right in zip(node.ops, node.comparators):
                 if isinstance(sign, (ast.Is, ast.IsNot)):
-                    self.assertTrue(isinstance(right, ast.Constant) and right.value is None, (name, node.lineno))
+                    self.assertIsInstance(right, ast.Constant, (name, node.lineno))
+                    self.assertIn(repr(right.value), ("None", "True", "False"))
 
 
 class ExpressionsTest(unittest.TestCase):

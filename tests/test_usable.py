@@ -4,7 +4,9 @@ import itertools
 import unittest
 
 from clashborn.balances import balance_of
+from clashborn.beginnings import parted_words, steady_all
 from clashborn.bookclasses import Book
+from clashborn.calms import calm_basis, calm_count
 from clashborn.classings import classes_among, first_of
 from clashborn.climbing import ladder_of
 from clashborn.coinwork import coins_after, coins_of
@@ -12,18 +14,29 @@ from clashborn.comingcounts import added_count, coming_count
 from clashborn.comingpapers import coming_paper, lets_coming
 from clashborn.comings import comes_of, lot_from
 from clashborn.comparing import first_unmade, is_within, makes_same
+from clashborn.confusions import are_rivals, confused_by, confused_pair
 from clashborn.crossed import crossed_basis, lets_crossed
+from clashborn.desk import desk_line
 from clashborn.errors import NotUsable
+from clashborn.eventtexts import read_event, read_log
 from clashborn.farthest import farthest_turns
 from clashborn.fewest import fewest_turns
+from clashborn.fixedlists import fixed_checks, fixed_count, lets_fixed
+from clashborn.furthers import keeps_paired, kind_with, one_pointed, tips_house
+from clashborn.halls import light_of_word, word_of_light
 from clashborn.housechanges import (
     beside_house, kept_words, moved_house, recast_house, reordered, with_word, without_word,
 )
+from clashborn.joinings import joined_pieces, pairing_with
 from clashborn.kindpapers import kind_paper, lets_kind
 from clashborn.laddertools import ladders_joined, trimmed, used_rows
+from clashborn.leasthouses import lets_least
 from clashborn.letters import added, clashes, sum_of
 from clashborn.lettertables import letter_table
 from clashborn.lettings import is_let, shift_of, side_of
+from clashborn.lightcomings import light_comes, lit_lot
+from clashborn.lightcounts import light_count
+from clashborn.live import LiveHouse
 from clashborn.lots import is_odd, lot_sum, lots_added, part_of
 from clashborn.madenumbers import made_at, made_before, next_made, number_of
 from clashborn.making import is_made, lets_unmade, maker_of, unmade_paper
@@ -32,12 +45,19 @@ from clashborn.needless import is_needless
 from clashborn.pairings import ends_of, is_pairing, pairing_of
 from clashborn.pairtexts import read_pairs
 from clashborn.pairwork import lot_with_ends, point_words, ring_basis, whole_relation
+from clashborn.partchecks import part_check
 from clashborn.piececlasses import Piece
 from clashborn.piececounts import piece_count, sums_count
 from clashborn.piecekinds import kind_of, odd_relation
+from clashborn.planning import lets_plan, plan_of
+from clashborn.plays import play_levels, play_of
+from clashborn.presses import lets_play, may_press, pressed
+from clashborn.readings import read_by, unseen_basis
 from clashborn.refusals import lets_refusal, refusal_of
+from clashborn.replaying import cut_log, held_walk, replayed
 from clashborn.routeclasses import Route
 from clashborn.sharings import share_at
+from clashborn.sideclasses import Sides
 from clashborn.signs import sign_by, sign_word
 from clashborn.sixes import six_of
 from clashborn.sourceclasses import Source
@@ -45,14 +65,20 @@ from clashborn.spans import apart_basis, are_independent, dimension_of, first_ba
 from clashborn.spreads import made_spread, told_spread
 from clashborn.startcounts import made_with, piece_with
 from clashborn.staying import stay_basis
+from clashborn.steadies import is_steady, steady_basis
+from clashborn.stepping import reason_of, step_of
+from clashborn.streetcoins import coins_come, fewest_jumps, lets_slides, slid, slides_of
+from clashborn.streets import coins_word, point_word
 from clashborn.sumpapers import is_sum, lets_sum, sum_paper
 from clashborn.tiework import met_by, piece_at
+from clashborn.tips import kept_count, tip_count, tip_word, tip_word_count
 from clashborn.toldrows import lets_told_row, told_row
 from clashborn.turnchecker import lets_turns
 from clashborn.turning import told_walk, turned, turned_along
 from clashborn.turnpapers import lets_turn_paper, turn_paper
 from clashborn.turnwords import turn_words
 from clashborn.walking import made_walked, walked
+from clashborn.watchclasses import Watch
 from clashborn.wishing import lets_wishes, wish_paper, word_by
 from clashborn.withinpapers import lets_within, within_paper
 from clashborn.wordchanges import beside, moved, recast
@@ -116,6 +142,14 @@ BAD_LADDERS = [
 ]
 
 BAD_STARTS = [None, True, 0, (), ("X",), ["X"], "x", "XA", " ", "XXX", "III", "-", "X I"]
+
+# Two pieces, the first one strict, the second one lone.
+SIX_BESIDE = (4, ("XIII", "ZIII", "XXII", "IZII", "IXXI", "IZZI", "IIIX"))
+# Words that are no rivals of ZI by the house LINE.
+NO_RIVALS = ["ZI", "YI", "XZ", "II", "XX", "XI"]
+PATH = (3, ((0, 1), (1, 2)))
+BAD_RULES = [None, True, 0, 1, "", "even", "Lit", ("odd",), ["lit"], " odd"]
+BAD_HELD = [value for value in bad_words(2) if value is not None]
 
 # Each case: the function, then for each parameter its name, a good value, and the values to refuse, None for none.
 CASES = [
@@ -251,6 +285,76 @@ CASES = [
     (within_paper, ("house", LINE, None), ("other", FIVE, BAD_HOUSES + [TRIO, (3, ())])),
     (lets_within, ("house", (2, ()), None), ("other", FIVE, BAD_HOUSES + [TRIO, (3, ())]), ("thing", ("within", ()), None)),
     (is_needless, ("house", LINE, None), ("told", 2, bad_numbers(3))),
+    (lets_least, ("house", LINE, None), ("thing", LINE, None)),
+    (kind_with, ("house", LINE, None), ("word", "IZ", bad_words(2) + ["II", "XI", "ZZ", "IX"])),
+    (keeps_paired, ("house", LINE, None), ("word", "IZ", bad_words(2) + ["II", "XI", "ZZ", "IX"])),
+    (tips_house, ("house", LINE, None), ("word", "IZ", bad_words(2) + ["II", "XI", "ZZ", "IX"])),
+    (one_pointed, ("house", BOTH, None), ("piece", 0, bad_numbers(2) + [1]), ("word", "YI", bad_words(2) + ["II", "XI", "IZ"])),
+    (joined_pieces, ("house", LINE, None), ("word", "II", bad_words(2))),
+    (pairing_with, ("house", LINE, None), ("word", "IZ", bad_words(2) + ["II", "XI", "ZZ", "IX"])),
+    (kept_count, ("house", LINE, [SIX, MORE])),
+    (tip_count, ("house", LINE, [SIX, MORE])),
+    (tip_word, ("house", HOUSE, None), ("piece", 1, bad_numbers(2))),
+    (tip_word, ("house", SIX_BESIDE, None), ("piece", 1, bad_numbers(2) + [0])),
+    (tip_word_count, ("house", SIX_BESIDE, None), ("piece", 1, bad_numbers(2) + [0])),
+    (Sides, ("house", LINE, BAD_HOUSES), ("other", FIVE, BAD_HOUSES + [TRIO, (3, ())])),
+    (read_by, ("word", "ZI", None), ("checks", ("XI", "II", "XI"), bad_tuples_of_words(2))),
+    (unseen_basis, ("places", 2, None), ("words", ("XI", "II"), bad_tuples_of_words(2)),
+     ("checks", ("XI", "II"), bad_tuples_of_words(2))),
+    (is_steady, ("house", LINE, None), ("word", "ZI", bad_words(2)), ("check", "XX", bad_words(2))),
+    (steady_basis, ("house", LINE, None), ("word", "ZI", bad_words(2))),
+    (part_check, ("house", LINE, None), ("word", "ZI", bad_words(2)), ("other", "IZ", bad_words(2))),
+    (are_rivals, ("house", LINE, None), ("word", "ZI", bad_words(2)), ("other", "ZI", bad_words(2))),
+    (confused_by, ("house", LINE, None), ("word", "ZI", bad_words(2)), ("other", "IZ", bad_words(2) + NO_RIVALS),
+     ("checks", ("XI",), bad_tuples_of_words(2))),
+    (confused_pair, ("house", LINE, None), ("word", "ZI", bad_words(2)), ("other", "IZ", bad_words(2) + NO_RIVALS),
+     ("checks", ("XI",), bad_tuples_of_words(2))),
+    (fixed_count, ("house", LINE, None), ("word", "ZI", bad_words(2)), ("other", "IZ", bad_words(2) + NO_RIVALS)),
+    (fixed_checks, ("house", LINE, None), ("word", "ZI", bad_words(2)), ("other", "IZ", bad_words(2) + NO_RIVALS)),
+    (lets_fixed, ("house", LINE, None), ("word", "ZI", bad_words(2)), ("other", "IZ", bad_words(2) + NO_RIVALS),
+     ("thing", ("XI", "ZI", "IZ"), None)),
+    (calm_count, ("house", HOUSE, None), ("piece", 1, bad_numbers(2))),
+    (calm_basis, ("house", HOUSE, None), ("piece", 1, bad_numbers(2))),
+    (plan_of, ("house", LINE, None), ("word", "ZI", bad_words(2)), ("other", "IZ", bad_words(2) + NO_RIVALS)),
+    (lets_plan, ("house", LINE, None), ("word", "ZI", bad_words(2)), ("other", "IZ", bad_words(2) + NO_RIVALS),
+     ("thing", (("XI",), (("ZI", 1), ("IZ", 0))), None)),
+    (steady_all, ("house", LINE, None), ("words", ("ZI", "II"), bad_tuples_of_words(2))),
+    (parted_words, ("house", LINE, None), ("words", ("ZI", "II"), bad_tuples_of_words(2))),
+    (Watch, ("house", LINE, BAD_HOUSES), ("word", "ZI", bad_words(2)), ("other", "IZ", bad_words(2) + NO_RIVALS)),
+    (Watch(LINE, "ZI", "IZ").judged, ("seen", "XZ", bad_words(2) + ["II", "XX", "XI"])),
+    (word_of_light, ("hall", PATH, None), ("rule", "odd", BAD_RULES), ("light", (0, 2), bad_lots(3))),
+    (light_of_word, ("hall", PATH, None), ("word", "XYZ", bad_words(3))),
+    (may_press, ("hall", PATH, None), ("rule", "odd", BAD_RULES), ("light", (0, 2), bad_lots(3)),
+     ("lamp", 1, bad_numbers(3))),
+    (pressed, ("hall", PATH, None), ("rule", "lit", BAD_RULES), ("light", (0, 2), bad_lots(3)),
+     ("lamp", 2, bad_numbers(3) + [1])),
+    (lets_play, ("hall", PATH, None), ("rule", "lit", BAD_RULES), ("light", (0, 2), bad_lots(3)), ("thing", (0,), None)),
+    (light_comes, ("hall", PATH, None), ("rule", "lit", BAD_RULES), ("light", (0, 2), bad_lots(3)), ("other", (), bad_lots(3))),
+    (lit_lot, ("hall", PATH, None), ("light", (0, 2), bad_lots(3)), ("other", (), bad_lots(3))),
+    (light_count, ("hall", PATH, None), ("rule", "lit", BAD_RULES), ("light", (0, 2), bad_lots(3))),
+    (play_of, ("hall", PATH, None), ("rule", "odd", BAD_RULES), ("light", (0, 2), bad_lots(3)), ("other", (), bad_lots(3))),
+    (play_levels, ("hall", PATH, None), ("rule", "odd", BAD_RULES), ("light", (0, 2), bad_lots(3))),
+    (point_word, ("points", 3, None), ("point", 2, bad_numbers(3))),
+    (coins_word, ("points", 3, None), ("coins", (0, 2), bad_lots(3))),
+    (coins_come, ("web", PATH, None), ("coins", (0, 2), bad_lots(3)), ("other", (1,), bad_lots(3))),
+    (fewest_jumps, ("web", PATH, None), ("coins", (0, 2), bad_lots(3)), ("other", (1,), bad_lots(3))),
+    (slid, ("web", PATH, None), ("coins", (0, 1), bad_lots(3)), ("street", 1, bad_numbers(2) + [0])),
+    (lets_slides, ("web", PATH, None), ("coins", (0, 1), bad_lots(3)), ("thing", (1,), None)),
+    (slides_of, ("web", PATH, None), ("coins", (0, 2), bad_lots(3)), ("other", (1,), bad_lots(3))),
+    (reason_of, ("house", LINE, None), ("held", None, BAD_HELD), ("event", 7, None)),
+    (step_of, ("house", LINE, None), ("held", "II", BAD_HELD), ("event", ("drop",), None)),
+    (LiveHouse, ("places", 60, [0, -1, True, False, None, "1", (1,), [1]])),
+    (LiveHouse(2).do_all, ("events", (), [None, True, 0, "", [], ["drop"]]), ("keep", 7, None)),
+    (LiveHouse(2).tried, ("events", (), [None, True, 0, "", [], ["drop"]])),
+    (replayed(2, (("drop",),)[:0]).made, ("word", "XI", bad_words(2))),
+    (replayed(2, (("hold", "XI"),)).comes, ("word", "XI", bad_words(2))),
+    (replayed(2, (("hold", "XI"),)).fewest, ("word", "XI", bad_words(2))),
+    (replayed, ("places", 2, None), ("log", (), [None, True, 0, "", [], [("drop",)]])),
+    (held_walk, ("places", 2, None), ("log", (), [None, True, 0, "", [], [("drop",)]])),
+    (cut_log, ("log", (("drop",),), None), ("many", 10 ** 40, [-1, True, False, None, "0", (0,), [0]])),
+    (read_event, ("text", "drop", BAD_TEXTS)),
+    (read_log, ("text", "", BAD_TEXTS)),
+    (desk_line, ("live", LiveHouse(2), None), ("text", "house", BAD_TEXTS)),
     # Where pairs follow, the piece is to be a lone or paired one.
 ] + [
     (function, ("house", (4, ("XIII", "ZIII", "XXII", "IZII", "IXXI", "IZZI", "IIIX")), None),
