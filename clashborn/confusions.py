@@ -20,19 +20,14 @@ def confusing_code(rivalry, checks):
     return None
 
 
-def value_zero(rivalry, code, base):
-    """The base or its sum with the code, whichever has the value 0; base and code clash or base has code's value."""
-    return base ^ code if rivalry.value(base) else base
-
-
 def confused_steps(rivalry, code):
-    """Sums with the value 0, of which at least one leads, added to the word, to a word confused by the code."""
-    if rivalry.form.crossing(code) == 0:
-        return [0]
+    """Sums with the value 0 that get the value 1 by adding the code of confusing_code; at least one of them leads."""
     pairs, _ = crossed_codes(rivalry.places, independent_codes([code] + rivalry.form.basis))
-    # The code clashes with its partner alone, so both the partner and what is apart from them have a free choice.
+    # A code with the value 0 changes the value of just those sums that clash with it, as its partner does.
     start = 0 if rivalry.value(code) else pairs[0][1]
-    return [value_zero(rivalry, code, start ^ further) for further in [0] + [pair[0] for pair in pairs[1:2]]]
+    # If the first sum does not lead, one that differs from it by what is apart from the code and its partner does.
+    sums = [start] + [start ^ pair[0] for pair in pairs[1:2]]
+    return [step ^ code if rivalry.value(step) else step for step in sums]
 
 
 def are_rivals(house, word, other):

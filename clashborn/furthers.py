@@ -19,7 +19,6 @@ def is_unpaired(kind):
 
 def kind_with(house, word):
     """The kind of the piece in which word, a further word, lies."""
-    need_further(house, word)
     wider = with_word(house, word)
     return kind_of(wider, piece_at(wider, len(house[1])))
 

@@ -6,7 +6,7 @@ from clashborn.housechanges import with_word
 from clashborn.meetings import Visit
 from clashborn.pairings import pairing_of
 from clashborn.tiework import piece_at
-from clashborn.usable import need_further, need_word
+from clashborn.usable import need_word
 
 
 def joined_mask(frame, words):
@@ -25,6 +25,5 @@ def joined_pieces(house, word):
 
 def pairing_with(house, word):
     """Any pairing of the piece in which word lies as a further word; Unlike if it is strict or loose."""
-    need_further(house, word)
     wider = with_word(house, word)
     return pairing_of(wider, piece_at(wider, len(house[1])))

@@ -19,9 +19,7 @@ def forms_in(frame):
 
 def least_size(form):
     """The fewest told words of a piece that makes the same words as this one."""
-    if form.kind == "lone":
-        return 1
-    # So many independent words have relations that are even and no whole ones.
+    # As many independent words as it has dimensions have neither an odd relation nor a whole one.
     if form.kind == "loose" or (form.is_large() and form.whole is not None):
         return len(form.basis) + 1
     return len(form.basis)

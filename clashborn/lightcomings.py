@@ -28,7 +28,7 @@ def changing_mask(visit, piece, change):
     side = side_at(visit, mask, piece)
     # Lots that change nothing shift the side as relations do: their sums are apart from all told words of the part.
     still = [0] + [mask_sum(singles, relation) for relation in span_of(ties)[2]]
-    fitting = [lots for lots in still if side is not None and shift_at(visit, lots, piece) == side]
+    fitting = [lots for lots in still if shift_at(visit, lots, piece) == side]
     return mask ^ fitting[0] if fitting != [] else None
 
 
@@ -40,8 +40,8 @@ def lit_mask(hall, light, other):
     found = 0
     for piece, mask in enumerate(visit.frame.piece_masks):
         if change & mask:
-            # Where no lamp is lit, none can be pressed, before or afterwards; a lone lamp changes nothing.
-            if len(visit.frame.pieces[piece]) == 1 or piece not in visit.met_pieces or goal & mask == 0:
+            # Where no lamp is lit, none can be pressed, and by pressing lamps the last lit one does not go out.
+            if visit.met_mask & mask == 0 or goal & mask == 0:
                 return None
             part = changing_mask(visit, piece, change & mask)
             if part is None:

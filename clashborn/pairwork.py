@@ -51,7 +51,7 @@ def whole_relation(house, piece, pairs):
     return lot_of(mask)
 
 
-def point_word(frame, piece, pairs, point):
+def word_at_point(frame, piece, pairs, point):
     """Any word that clashes with a told word of the piece exactly if its pair has the point."""
     wishes = [1 if point in pair else 0 for pair in pairs]
     code, _ = crossing_all([frame.swaps[told] for told in frame.pieces[piece]], wishes)
@@ -65,4 +65,4 @@ def point_words(house, piece, pairs):
     mask = whole_mask(frame, piece, pairs)
     if mask is not None:
         raise Odd(lot_of(mask))
-    return tuple([point_word(frame, piece, pairs, point) for point in range(count_points(pairs))])
+    return tuple([word_at_point(frame, piece, pairs, point) for point in range(count_points(pairs))])

@@ -42,7 +42,7 @@ def way_to_unlike(near, left, now, start):
     edge = [start]
     while True:
         point = edge.pop(0)
-        if parity(now & mask_of((start, point))) == 1 and point != start:
+        if parity(now & mask_of((start, point))) == 1:
             return ways[point], point
         for street, far in near[point]:
             if far in left and far not in ways:

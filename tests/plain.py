@@ -482,6 +482,8 @@ def small_houses(seed):
         found += [(4, chain), (4, chain + tuple(word[:3] + "X" for word in chain[:2]))]
     # A strict and a loose piece with a rest of two words, of the strict one both with the sign 0.
     found += [(4, tuple(word + "I" for word in house[1]) + ("XIIX",)) for house in (SIX, MORE)]
+    # A strict piece with a basis in two parts that just its last word holds together.
+    found.append((4, tuple(word + "I" for word in SIX[1]) + ("IIIX", "IIIZ", "IIZX")))
     found += [beside(LINE, TRIO), beside(SIX, LINE)]
     found.append(beside((1, ("X",)), (3, ("XII", "ZII", "YXI"))))
     return found

@@ -35,6 +35,7 @@ def houses():
     """Houses on at most four places, with pieces of all sorts."""
     found = [house for house in plain.small_houses(67) if house[0] <= 3 or len(house[1]) <= 6]
     found += [plain.beside(TRIO, (1, ("Z",))), plain.beside(TRIO, TRIO), plain.beside(LINE, (1, ("X", "Z"))), RINGED]
+    found += [(3, ("XII", "IXI", "IIX")), plain.beside(TRIO, (2, ("XI", "IZ"))), plain.beside(LINE, (2, ("XI", "IZ")))]
     found += [(4, ("XIII", "ZIII", "XXII", "IZII")), (4, ("XIII", "ZIII", "XXII", "IZII", "IIIX"))]
     return found
 

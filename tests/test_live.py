@@ -30,11 +30,13 @@ GOOD_EVENTS = [("tell", "XI"), ("tell", "I"), ("tell", "X" * 60), ("strike", 0),
                ("hold", "Y" * 60), ("turn", 7), ("jump", "ZZ"), ("jump", "I"), ("drop",)]
 
 
-def random_event(chance, places, many):
+def random_event(chance, places, many, made=()):
     """Any event, often one that is let."""
     name = chance.choice(("tell", "tell", "strike", "hold", "turn", "turn", "jump", "jump", "drop"))
     if name == "drop":
         return ("drop",)
+    if name == "jump" and made and chance.random() < 0.8:
+        return (name, chance.choice(made))
     if name in ("strike", "turn"):
         return (name, chance.randrange(max(1, many) + (chance.random() < 0.2)))
     return (name, plain.random_word(chance, places + (chance.random() < 0.05)))
@@ -183,7 +185,7 @@ class LiveTest(unittest.TestCase):
             log = []
             for _ in range(60):
                 house, held, path = states[-1]
-                event = random_event(chance, places, len(house[1]))
+                event = random_event(chance, places, len(house[1]), sorted(plain.made_words(house)))
                 reason = reason_of(house, held, event)
                 self.assertEqual(live.barred(event), reason)
                 if reason is not None:

@@ -10,7 +10,7 @@ from clashborn.fixedlists import fixed_checks, fixed_count, lets_fixed
 from clashborn.planning import lets_plan, plan_of
 from clashborn.planwalks import place_by, plan_checks, told_by
 from clashborn.readings import read_by
-from clashborn.spans import rank_of
+from clashborn.spans import apart_basis, rank_of
 from clashborn.watchclasses import Watch
 from tests import plain
 from tests.plain import BOTH, DUO, FIVE, LINE, MORE, ROW, SIX, TRIO, WHOLE
@@ -153,6 +153,15 @@ class RivalsTest(unittest.TestCase):
                 self.assertFalse(are_rivals(ground.house, one, two) and are_rivals(ground.house, two, three)
                                  and are_rivals(ground.house, one, three))
 
+    def test_any_words_of_both_classes(self):
+        # Of words that are no rivals, too.
+        chance = plain.chance_of(75)
+        for ground in grounds():
+            words = plain.all_words(ground.places)
+            for word, other in [(chance.choice(words), chance.choice(words)) for _ in range(15)]:
+                one, two = chance.choice(ground.classes[word]), chance.choice(ground.classes[other])
+                self.assertIs(are_rivals(ground.house, one, two), are_rivals(ground.house, word, other))
+
     def test_cases_of_all_sorts(self):
         ranks = {ground.rank(word) for ground, word, _ in rival_cases()}
         self.assertEqual(ranks, {2, 4, 6})
@@ -189,6 +198,23 @@ class ConfusedTest(unittest.TestCase):
                 seen.append(confused)
         self.assertGreater(seen.count(True), 100)
         self.assertGreater(seen.count(False), 100)
+
+    def test_one_sum_unseen(self):
+        # Checks that see all sums but one, this being any sum of the piece: also such as either rival is like.
+        seen = []
+        for ground, word, other in rival_cases()[::3] + [(ground, word, other) for ground, word, other in rival_cases()
+                                                         if ground.house == SIX]:
+            house = ground.house
+            for unseen in sorted(ground.sums[ground.swept[word]]):
+                checks = apart_basis(house[0], (unseen,))
+                confused = ground.confused(word, other, checks)
+                pair = confused_pair(house, word, other, checks)
+                self.assertIs(pair is not None, confused, (house, word, other, unseen))
+                if confused:
+                    self.assertEqual(plain.plus(*pair), unseen)
+                    self.assertTrue(pair[0] in ground.classes[word] and pair[1] in ground.classes[other])
+                seen.append((confused, pair is not None and unseen in (word, other)))
+        self.assertEqual(set(seen), {(True, True), (True, False), (False, False)})
 
     def test_further_checks_beside_them(self):
         chance = plain.chance_of(80)

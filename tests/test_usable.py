@@ -50,6 +50,7 @@ from clashborn.piececlasses import Piece
 from clashborn.piececounts import piece_count, sums_count
 from clashborn.piecekinds import kind_of, odd_relation
 from clashborn.planning import lets_plan, plan_of
+from clashborn.planwalks import place_by, plan_checks, told_by
 from clashborn.plays import play_levels, play_of
 from clashborn.presses import lets_play, may_press, pressed
 from clashborn.readings import read_by, unseen_basis
@@ -147,6 +148,7 @@ BAD_STARTS = [None, True, 0, (), ("X",), ["X"], "x", "XA", " ", "XXX", "III", "-
 SIX_BESIDE = (4, ("XIII", "ZIII", "XXII", "IZII", "IXXI", "IZZI", "IIIX"))
 # Words that are no rivals of ZI by the house LINE.
 NO_RIVALS = ["ZI", "YI", "XZ", "II", "XX", "XI"]
+PLAN = (("XI",), (("ZI", 1), ("IZ", 0)))
 PATH = (3, ((0, 1), (1, 2)))
 BAD_RULES = [None, True, 0, 1, "", "even", "Lit", ("odd",), ["lit"], " odd"]
 BAD_HELD = [value for value in bad_words(2) if value is not None]
@@ -317,7 +319,10 @@ CASES = [
     (calm_basis, ("house", HOUSE, None), ("piece", 1, bad_numbers(2))),
     (plan_of, ("house", LINE, None), ("word", "ZI", bad_words(2)), ("other", "IZ", bad_words(2) + NO_RIVALS)),
     (lets_plan, ("house", LINE, None), ("word", "ZI", bad_words(2)), ("other", "IZ", bad_words(2) + NO_RIVALS),
-     ("thing", (("XI",), (("ZI", 1), ("IZ", 0))), None)),
+     ("thing", PLAN, None)),
+    (place_by, ("plan", PLAN, None), ("word", "XZ", bad_words(2))),
+    (told_by, ("plan", PLAN, None), ("word", "XZ", bad_words(2))),
+    (plan_checks, ("plan", PLAN, None), ("word", "XZ", bad_words(2))),
     (steady_all, ("house", LINE, None), ("words", ("ZI", "II"), bad_tuples_of_words(2))),
     (parted_words, ("house", LINE, None), ("words", ("ZI", "II"), bad_tuples_of_words(2))),
     (Watch, ("house", LINE, BAD_HOUSES), ("word", "ZI", bad_words(2)), ("other", "IZ", bad_words(2) + NO_RIVALS)),
